@@ -1,0 +1,1 @@
+"""Innerfractions: what is made of fractions of one letter."""

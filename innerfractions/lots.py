@@ -27,7 +27,7 @@ def fewest_pieces(poly):
     Primes above 60 are taken as well, since those below need not serve.
     """
     prime, tried, best = 3, 0, (0, [])
-    while tried < MOST_TRIED:
+    while tried < MOST_TRIED and len(best[1]) != 1:
         if is_odd_prime(prime) and is_served(poly, prime):
             tried = tried + 1
             pieces = pieces_of(poly, prime)

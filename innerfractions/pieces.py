@@ -1,8 +1,8 @@
 """The pieces of polynomials modulo a prime, and how they are led along to its powers."""
 
-from innerfractions.bare import lessened, multiplied, multiplied_all, raised, scaled_by, summed
+from innerfractions.bare import lessened, multiplied_all, raised, scaled_by, summed
 from innerfractions.residues import common_modulo, divided_modulo, has_square_modulo, inverse_modulo
-from innerfractions.residues import monic, power_modulo, residues, rest_modulo
+from innerfractions.residues import monic, power_modulo, product_modulo, residues
 
 
 def is_served(poly, prime):
@@ -75,22 +75,21 @@ def others_of(poly, pieces, at):
 def led_along(poly, pieces, prime, bound):
     """A tuple of the pieces led along to a power of the prime above the bound, and this power.
 
-    helpers are the inverses of the other pieces' product modulo each piece; with them what the
-    product of all lacks is dealt out to the pieces. Each round squares the modulus.
+    What the polynomial leaves when it is divided by a piece, times the piece's helper, is what
+    the piece lacks. The helpers are the inverses of all else that the polynomial is a product of.
+    Each round squares the modulus.
     """
     modulus, places = prime, list(range(len(pieces)))
     helpers = [inverse_modulo(residues(others_of(poly, pieces, at), prime), pieces[at], prime) for at in places]
     while modulus <= bound:
         modulus = modulus * modulus
-        lack = residues(lessened(poly, scaled_by(multiplied_all(pieces), poly[-1])), modulus)
-        shifts = [rest_modulo(residues(multiplied(lack, helpers[at]), modulus), pieces[at], modulus) for at in places]
-        pieces = [residues(summed(pieces[at], shifts[at]), modulus) for at in places]
+        lacks = [product_modulo(poly, helpers[at], pieces[at], modulus) for at in places]
+        pieces = [residues(summed(pieces[at], lacks[at]), modulus) for at in places]
         helpers = [bettered(helpers[at], others_of(poly, pieces, at), pieces[at], modulus) for at in places]
     return pieces, modulus
 
 
 def bettered(helper, others, piece, modulus):
     """The helper made the inverse of the others modulo the piece, for a modulus that was squared."""
-    over = rest_modulo(residues(multiplied(helper, others), modulus), piece, modulus)
-    lack = residues(lessened([2], over), modulus)
-    return rest_modulo(residues(multiplied(helper, lack), modulus), piece, modulus)
+    near_one = product_modulo(helper, others, piece, modulus)
+    return product_modulo(helper, lessened([2], near_one), piece, modulus)

@@ -45,6 +45,11 @@ def rest_modulo(poly, other, modulus):
     return divided_modulo(poly, other, modulus)[1]
 
 
+def product_modulo(first, second, over, modulus):
+    """The rest of the product of both, divided by over."""
+    return rest_modulo(residues(multiplied(first, second), modulus), over, modulus)
+
+
 def common_modulo(first, second, prime):
     """The common part of both, its head 1."""
     while second:
@@ -62,8 +67,8 @@ def power_modulo(poly, many, over, prime):
     power, base = [1], rest_modulo(poly, over, prime)
     while many > 0:
         if many & 1:
-            power = rest_modulo(residues(multiplied(power, base), prime), over, prime)
-        base = rest_modulo(residues(multiplied(base, base), prime), over, prime)
+            power = product_modulo(power, base, over, prime)
+        base = product_modulo(base, base, over, prime)
         many = many >> 1
     return power
 

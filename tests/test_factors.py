@@ -87,6 +87,11 @@ class Factors(unittest.TestCase):
             self.assertGreaterEqual(len(made), 2)
         self.check(times([10 ** 100, 1], [1, 10 ** 100]), [(ratios(Ratio(1, 10 ** 100), 1), 1), (ratios(10 ** 100, 1), 1)])
 
+    def test_heads_just_below_powers_of_primes(self):
+        # Times the head a factor has a number just below 3 to the 16: its rest alone would not tell its sign.
+        for number in (4637, 5000, 6560):
+            self.check([-1, 0, number * number], [(ratios(Ratio(-1, number), 1), 1), (ratios(Ratio(1, number), 1), 1)])
+
     def test_many_lines_with_heads(self):
         product, lines = [1], [[-(at * at + 1), 2 * at + 3] for at in range(8)]
         for line in lines:

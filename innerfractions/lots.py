@@ -2,7 +2,7 @@
 
 from math import lcm
 
-from innerfractions.bare import bare, derived_bare, divided_bare, multiplied_all, scaled_by
+from innerfractions.bare import bare, derived_bare, divided_bare, multiplied_all, raised, scaled_by
 from innerfractions.commons import common_bare, quotient_bare
 from innerfractions.pieces import is_served, led_along, pieces_of
 from innerfractions.residues import residues
@@ -39,7 +39,7 @@ def fewest_pieces(poly):
 
 def factor_bound(poly):
     """More than twice each number of a factor, times the polynomial's head, has (Mignotte)."""
-    return 2 * (1 << len(poly)) * sum([abs(number) for number in poly])
+    return 2 * raised(2, len(poly)) * sum([abs(number) for number in poly])
 
 
 def lots_of(many, size):

@@ -103,6 +103,16 @@ def put_over(poly, up, down, many):
     return total
 
 
+def worth_over(poly, up, down, many):
+    """The INTEGER that put_over comes to for two INTEGERS."""
+    total, power = 0, 1
+    for at in range(many, -1, -1):
+        number = poly[at] if at < len(poly) else 0
+        total = total * up + number * power
+        power = power * down
+    return total
+
+
 def divided_bare(poly, other):
     """A tuple (power, quotient, rest): power, an INTEGER, times poly is quotient times other, and rest."""
     power, quotient, rest, head = 1, [], list(poly), other[-1]

@@ -1,5 +1,6 @@
 """What several test files share: values of no kind, and how refusals are looked at."""
 
+import copy
 import random
 from fractions import Fraction as Exact
 
@@ -35,6 +36,25 @@ NO_ROWS = [
     None, True, 1, Ratio(1), "12", b"12", {}, {0: [1]}, [1], [[]], [(), ()], [[1], [1, 2]], [[1, 2], [1]], [[True]],
     [[1], None], [[1], "1"], [[1, None]], [[1], [False]], [["1"]], [[[1]]], [{0: 1}], [b"1"], [[1]] * 61, [[0] * 41],
     ([1] * 41,), STRANGE, object(),
+]
+NO_PLACES = [
+    None, True, False, "", "0", "1/2", "Beyond", "beyond ", " beyond", b"beyond", ["beyond"], ("beyond",), [1], (1, 0), {},
+    LETTER, Fraction([2]), Ratio, STRANGE, object(),
+]
+NO_FORMS = [
+    None, True, False, 1, Ratio(1), "12", "beyond", b"12", {}, {0: 1}, [], (), [0], (0, 0), [0, Ratio(0)], [0] * 25, [True],
+    [1, False], [1, None], ["1"], [1, "beyond"], [[1]], [LETTER], [1] * 26, (0,) * 25 + (1,), LETTER, STRANGE, object(),
+]
+NO_MOVES = NO_FRACTIONS + [
+    Fraction([]), Fraction([Ratio(2, 3)]), Fraction([0, 0, 1]), Fraction([1, 0, 1], [0, 1]), Fraction([1], [1] * 25), [LETTER],
+    Fraction([2, 2], [1, 1]), 1, Ratio(1),
+]
+# Of the degrees 8 and 9.
+EIGHTH, NINTH = Fraction([1], [0] * 8 + [1]), Fraction([1, 1], [0] * 9 + [1])
+NO_FRACTION_LISTS = [
+    None, True, "t", b"t", LETTER, {}, {0: LETTER}, [], (), [LETTER] * 5, (LETTER,) * 5, [None], [LETTER, None], [LETTER, 1],
+    [[LETTER]], [LETTER, Fraction([3])], [Fraction([])], [NINTH], (LETTER, NINTH), [LETTER, LETTER, LETTER, Ratio(1)], [True],
+    STRANGE, object(), Fraction,
 ]
 
 
@@ -77,6 +97,27 @@ def draw_poly(draw, most):
     """A polynomial of up to so many NUMBERS, as a list or as a tuple."""
     numbers = [draw_number(draw) for _ in range(draw.randint(0, most))]
     return tuple(numbers) if draw.random() < 0.3 else numbers
+
+
+def draw_place(draw):
+    """A place of some sort: a small number, now and then any number, or beyond."""
+    kind = draw.randrange(8)
+    if kind == 0:
+        return "beyond"
+    if kind == 1:
+        return draw_number(draw)
+    return Ratio(draw.randint(-6, 6), draw.choice([1, 1, 2, 3]))
+
+
+def draw_fraction(draw, degree, most=5):
+    """A Fraction of just this degree, with numbers of about this size."""
+    while True:
+        short = draw.randint(0, degree)
+        top = [draw.randint(-most, most) for _ in range(degree + 1)]
+        bottom = [Ratio(draw.randint(-most, most), draw.choice([1, 1, 2])) for _ in range(short)] + [draw.randint(1, most)]
+        made = Fraction(top, bottom) if draw.random() < 0.7 or not any(top) else Fraction(bottom, top)
+        if made.degree == degree:
+            return made
 
 
 def drawing(seed):
@@ -128,3 +169,23 @@ def check_refusals(test, function, refused, good):
                     given[later[0]] = later[2][0]
                 check_raises(test, error, {"value": value}, function, *given.values())
                 check_raises(test, error, {"value": value}, function, **given)
+
+
+def check_call(test, function, good):
+    """What the call tells: by place and by name the same, new each time; what was passed stays as it was."""
+    kept = copy.deepcopy(good)
+    told, again = function(*good.values()), function(**good)
+    test.assertEqual(told, again)
+    spoil(told)
+    test.assertEqual(function(**good), again)
+    test.assertEqual(good, kept)
+    return again
+
+
+def spoil(told):
+    """Changes all lists in what was told."""
+    if isinstance(told, (list, tuple)):
+        for part in told:
+            spoil(part)
+    if isinstance(told, list):
+        told.append(None)

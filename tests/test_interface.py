@@ -22,6 +22,35 @@ FUNCTIONS = {
     "factors": {"factors": ["poly"], "is_whole": ["poly"], "roots": ["poly"]},
     "dividers": {"dividers": ["poly", "many"], "is_divider": ["poly", "value"]},
     "fractions": {"letter": [], "put": ["fraction", "other"], "slope": ["fraction"]},
+    "places": {"is_place": ["value"], "told_place": ["place"], "worth": ["fraction", "place"]},
+    "moves": {
+        "is_move": ["value"], "move_by": ["places", "goals"], "undone": ["move"], "fixed_places": ["move"],
+        "power": ["move", "many"], "order": ["move"],
+    },
+    "forms": {
+        "is_form": ["value"], "told_form": ["form"], "are_like": ["form", "other"], "product": ["form", "other"],
+        "divides": ["form", "other"], "rest_form": ["form", "other"], "common_form": ["form", "other"], "places_of": ["form"],
+    },
+    "twins": {
+        "part": ["fraction", "place"], "taken": ["fraction", "place"], "common_part": ["fractions", "place"],
+        "twins": ["fractions", "place"], "are_twins": ["fractions", "place", "second"],
+    },
+    "turning": {"fibre": ["fraction", "worth"], "turning": ["fraction"]},
+    "outer": {
+        "outer": ["fraction", "inner"], "is_inner": ["fraction", "inner"], "parting_place": ["fraction", "inner"],
+        "is_parting_place": ["fraction", "inner", "value"],
+    },
+    "classes": {"class_of": ["fraction"], "same_class": ["fraction", "other"], "move_between": ["fraction", "other"]},
+    "halves": {"inner_ones": ["fraction", "many"], "all_inner": ["fraction"], "is_whole_fraction": ["fraction"]},
+    "ones": {
+        "the_one": ["fractions"], "outers": ["fractions"], "tells_letter": ["fractions"],
+        "is_the_one": ["fractions", "fraction"], "lone_place": ["fractions"], "is_lone_place": ["fractions", "value"],
+    },
+    "made": {
+        "is_made": ["fractions", "fraction"], "made_steps": ["fractions", "fraction"],
+        "is_made_steps": ["fractions", "fraction", "value"], "is_finer": ["fractions", "others"],
+    },
+    "kept": {"kept_apart": ["fractions", "fraction"], "is_kept_apart": ["fractions", "fraction", "value"]},
 }
 # Of each class its parameters, and of each method its parameters; None marks a property.
 CLASSES = {

@@ -35,11 +35,11 @@ def made_steps(fractions, fraction):
     need_made(fractions, fraction)
     if not is_fraction_of(fraction, the_one(fractions)):
         return None
-    for at, one in enumerate(fractions):
-        if is_fraction_of(fraction, one):
-            return [last_step(fraction, one, at)]
-    steps, one, at = steps_to_one(fractions)
-    return steps if fraction == one else steps + [last_step(fraction, one, at)]
+    alone = [at for at, one in enumerate(fractions) if is_fraction_of(fraction, one)]
+    if alone:
+        return [last_step(fraction, fractions[alone[0]], alone[0])]
+    steps, held, at = steps_towards(fractions, fraction)
+    return steps if fraction == held else steps + [last_step(fraction, held, at)]
 
 
 def is_made_steps(fractions, fraction, value):
@@ -88,24 +88,30 @@ def column(poly):
 
 
 def last_step(fraction, one, at):
-    """The step from the one at a position to the fraction, a number or a fraction of the one."""
+    """The step from the one, at a position, alone to the fraction, a number or a fraction of the one."""
     if not fraction.is_full:
         return at, at, column(fraction.upper()), column(fraction.lower())
     outer = outer_of(fraction, one)
     return at, at, column(outer.upper()), column(outer.lower())
 
 
-def steps_to_one(fractions):
-    """A tuple of steps, the one of the fractions but for a move, and its position among them and the results."""
-    steps, held, at = [], fractions[0], 0
-    for place, other in enumerate(fractions[1:], 1):
-        shared = the_one([held, other])
-        if shared.degree == other.degree:
-            held, at = other, place
-        elif shared.degree < held.degree:
-            top, bottom = back_grids(outer_of(held, shared), outer_of(other, shared))
-            steps.append((at, place, in_ratios(top), in_ratios(bottom)))
-            held, at = shared, len(fractions) + len(steps) - 1
+def steps_towards(fractions, fraction):
+    """A tuple of steps, a fraction of which the one that is made comes, and its position among told ones and results.
+
+    Fractions of lesser degrees are taken first, since their grids are smaller. So what is joined
+    to the one held has at least its degree, and neither is made of the other one.
+    """
+    places = [at for _, at in sorted([(one.degree, at) for at, one in enumerate(fractions)])]
+    steps, at = [], places[0]
+    held = fractions[at]
+    for place in places[1:]:
+        if not is_fraction_of(fraction, held):
+            other = fractions[place]
+            shared = the_one([held, other])
+            if shared.degree < held.degree:
+                top, bottom = back_grids(outer_of(held, shared), outer_of(other, shared))
+                steps.append((at, place, in_ratios(top), in_ratios(bottom)))
+                held, at = shared, len(fractions) + len(steps) - 1
     return steps, held, at
 
 

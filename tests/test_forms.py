@@ -8,6 +8,7 @@ import reference
 from helpers import NO_FORMS, check_call, check_raises, check_refusals, draw_number, drawing, exact, ratios
 from innerfractions.errors import InvalidForm, NotDivided, TooMany
 from innerfractions.forms import are_like, common_form, divides, is_form, places_of, product, rest_form, told_form
+from innerfractions.fractions import Fraction
 from innerfractions.ratios import Ratio
 
 HALF = Ratio(1, 2)
@@ -49,6 +50,11 @@ class Kinds(unittest.TestCase):
             self.assertIs(is_form(value=form), True)
         for value in NO_FORMS:
             self.assertIs(is_form(value), False, value)
+        for many in range(25):
+            self.assertIs(is_form(Fraction([1], [0] * many + [1])), False)
+            self.assertIs(is_form([0] * many), False)
+            self.assertIs(is_form([0] * many + [Ratio(1, 3)]), True)
+            self.assertIs(is_form([0] * many + [True]), False)
 
     def test_told(self):
         draw = drawing(121)

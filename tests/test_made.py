@@ -119,6 +119,13 @@ class Made(Checks):
         told = [put(power(many), LETTER + many) for many in (8, 4)] + [power(6), power(8)]
         self.check_made(told, LETTER)
 
+    def test_in_any_sequence(self):
+        draw = drawing(199)
+        for _ in range(6):
+            told = [put(power(many), draw_fraction(draw, 1, 3)) for many in (2, 4)] + [draw_fraction(draw, 5, 3), power(8)]
+            for others in (told, told[::-1], told[2:] + told[:2], told[1:] + told[:1]):
+                self.check_made(others, LETTER)
+
     def test_bound(self):
         self.check_made([LETTER], EIGHTH)
         for function, more in [(is_made, []), (made_steps, []), (is_made_steps, [None]), (is_made_steps, [[(0, 0, X, ONE)]])]:

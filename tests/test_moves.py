@@ -23,7 +23,8 @@ ORDERS = [
     (LETTER * Ratio(-1, 2), None),
 ]
 NO_THREE = [
-    None, True, 3, "012", "beyond", b"012", {}, {0: 1, 1: 2, 2: 3}, [], [0, 1], [0, 1, 2, 3], (0, 1), [0, 0, 1], [0, 1, 0],
+    None, True, 3, "012", "beyond", b"012", {}, {0: 1, 1: 2, 2: 3}, [], [0, 1], [0, 1, 2, 3], (0, 1), [0, 1, 2, 2],
+    [0, "beyond", 1, 0], [0, 0, 1], [0, 1, 0],
     [1, 0, 0], ["beyond", 0, "beyond"], ["beyond", "beyond", 1], [0, 1, Ratio(1)], [Ratio(1, 2), 3, Ratio(2, 4)], [0, 1, None],
     [True, 2, 3], [0, 1, "2"], [[0], 1, 2], [0, LETTER, 1], STRANGE, object(),
 ]
@@ -46,6 +47,9 @@ class Moves(unittest.TestCase):
             self.assertIs(is_move(value=move), True)
         for value in NO_MOVES:
             self.assertIs(is_move(value), False, value)
+        for many in range(25):
+            self.assertIs(is_move(Fraction([1, 1], [0] * many + [7])), many == 1 or many == 0)
+            self.assertIs(is_move(Fraction([0] * many + [7], [1])), many == 1)
 
     def test_refused(self):
         for function in (undone, fixed_places, order):

@@ -11,7 +11,7 @@ from innerfractions.ones import is_lone_place, is_the_one, lone_place, outers, t
 from innerfractions.outer import is_inner, outer
 from innerfractions.places import is_place
 from innerfractions.ratios import Ratio
-from innerfractions.twins import common_part
+from innerfractions.twins import are_twins, common_part
 
 SQUARE, CUBE, WAVE = Fraction([0, 0, 1]), Fraction([0, 0, 0, 1]), Fraction([1, 0, 1], [0, 1])
 BOTH, NEAR = Fraction([1, 0, 0, 0, 1], [0, 0, 1]), Fraction([-1, 0, 1], [0, 1])
@@ -131,9 +131,17 @@ class Ones(Checks):
         for number in range(6):
             self.assertEqual(len(common_part(fractions, number)) - 1, 6)
             self.assertIs(is_lone_place(fractions, number), False)
-        pairs = (LETTER - 1) * (LETTER - 2)
-        fractions = [put(SQUARE, LETTER * LETTER - LETTER * 3) + pairs * pairs * 0, LETTER * pairs]
-        self.check(fractions)
+
+    def test_where_the_first_places_agree_on_too_much(self):
+        # 0 and 5 are twins, and 1 and 7: two places with common parts of the degree 2 that have no
+        # root in common, and of which the quotient is not inner.
+        double = LETTER * (LETTER - 5) * (LETTER - 1) * (LETTER - 7)
+        curve = LETTER * (LETTER - 5) * (LETTER * 3 - 17) * Ratio(1, 56)
+        for number, other in ((0, 5), (1, 7)):
+            self.assertEqual(len(common_part([curve, curve + double], number)) - 1, 2)
+            self.assertIs(are_twins([curve, curve + double], number, other), True)
+        self.assertEqual(self.check([curve, curve + double]), letter())
+        self.assertEqual([is_lone_place([curve, curve + double], place) for place in (0, 1, 5, 7, 2)], [False] * 4 + [True])
 
     def test_with_great_numbers(self):
         draw = drawing(187)

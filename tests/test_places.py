@@ -22,6 +22,8 @@ class Places(unittest.TestCase):
         for value in NO_PLACES + NUMBERS:
             self.assertIs(is_place(value), False, value)
         self.assertIs(is_place("".join(["bey", "ond"])), True)
+        for many in range(25):
+            self.assertIs(is_place(Fraction([1], [0] * many + [1])), False)
 
     def test_told(self):
         for place in PLACES:

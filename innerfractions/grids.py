@@ -1,10 +1,10 @@
 """Grids: sums of numbers times powers of two letters x and y; what they come to with fractions put in."""
 
 from innerfractions.bare import multiplied, scaled_by, summed, trimmed
-from innerfractions.fractions import MOST_DEGREE, terms_of
-from innerfractions.ratios import cleared
+from innerfractions.fractions import MOST_DEGREE
+from innerfractions.ratios import Ratio, cleared
 from innerfractions.solved import are_numbers
-from innerfractions.through import products_of
+from innerfractions.through import powers_over
 from innerfractions.wide import reduced
 
 MOST_WIDE = 9
@@ -44,20 +44,34 @@ def sum_over(rows, ups, downs):
     return total
 
 
+def grid_sums(top, bottom, first, second):
+    """Two polynomials of INTEGERS whose quotient both grids come to, the Fractions put in for x and y.
+
+    The second one is nought exactly if bottom comes to 0.
+    """
+    up, over = cleared_grid(top)
+    down, under = cleared_grid(bottom)
+    (up_high, up_wide), (down_high, down_wide) = powers_of(up), powers_of(down)
+    # Both sums stand over the same product of bottoms, which is left out.
+    ups = powers_over(first, max(up_high, down_high))
+    downs = powers_over(second, max(up_wide, down_wide))
+    return scaled_by(sum_over(up, ups, downs), under), scaled_by(sum_over(down, ups, downs), over)
+
+
 def grid_quotient(top, bottom, first, second):
     """The Fraction top divided by bottom, with the first Fraction for x and the second one for y.
 
     None if bottom comes to 0, or if it has a degree above 24.
     """
-    up, over = cleared_grid(top)
-    down, under = cleared_grid(bottom)
-    (up_high, up_wide), (down_high, down_wide) = powers_of(up), powers_of(down)
-    x_top, x_bottom = terms_of(first)
-    y_top, y_bottom = terms_of(second)
-    # Both sums stand over the same product of bottoms, which is left out.
-    ups = products_of(x_top, x_bottom, max(up_high, down_high))
-    downs = products_of(y_top, y_bottom, max(up_wide, down_wide))
-    below = sum_over(down, ups, downs)
-    if not below:
-        return None
-    return reduced(scaled_by(sum_over(up, ups, downs), under), scaled_by(below, over), MOST_DEGREE)
+    above, below = grid_sums(top, bottom, first, second)
+    return reduced(above, below, MOST_DEGREE) if below else None
+
+
+def column(poly):
+    """The grid of a polynomial in x alone."""
+    return [[number] for number in poly] if poly else [[Ratio(0)]]
+
+
+def in_ratios(grid):
+    """The grid with Ratios for its INTEGERS."""
+    return [[Ratio(number) for number in row] for row in grid]

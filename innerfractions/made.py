@@ -3,9 +3,8 @@
 from innerfractions.backs import back_grids
 from innerfractions.basics import is_count
 from innerfractions.fractions import need_fraction
-from innerfractions.grids import grid_quotient, is_grid
+from innerfractions.grids import column, grid_quotient, in_ratios, is_grid
 from innerfractions.ones import the_one
-from innerfractions.ratios import Ratio
 from innerfractions.refusals import MOST_TOLD_DEGREE, need_degree, need_fractions
 from innerfractions.through import outer_of
 
@@ -82,11 +81,6 @@ def result_of(step, held):
     return grid_quotient(top, bottom, held[first], held[second])
 
 
-def column(poly):
-    """The grid of a polynomial in x alone."""
-    return [[number] for number in poly] if poly else [[Ratio(0)]]
-
-
 def last_step(fraction, one, at):
     """The step from the one, at a position, alone to the fraction, a number or a fraction of the one."""
     if not fraction.is_full:
@@ -113,8 +107,3 @@ def steps_towards(fractions, fraction):
                 steps.append((at, place, in_ratios(top), in_ratios(bottom)))
                 held, at = shared, len(fractions) + len(steps) - 1
     return steps, held, at
-
-
-def in_ratios(grid):
-    """The grid with Ratios for its INTEGERS."""
-    return [[Ratio(number) for number in row] for row in grid]

@@ -110,7 +110,7 @@ def worth(poly, number):
     top, bottom = pair_of(number)
     integers, below = cleared_poly(poly)
     total, power = 0, 1
-    for part in reversed(integers):
+    for part in integers[::-1]:
         total = total * top + part * power
         power = power * bottom
     # The last power has come behind the last number, so one bottom is too many in it.

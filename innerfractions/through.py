@@ -19,6 +19,12 @@ def products_of(top, bottom, many):
     return products
 
 
+def powers_over(fraction, many):
+    """The powers of the fraction up to this one, all times its bottom as often as many tells."""
+    top, bottom = terms_of(fraction)
+    return products_of(top, bottom, many)
+
+
 def outer_of(fraction, inner):
     """The Fraction that, of the inner one, is the fraction; None if there is none. Both are full.
 
@@ -29,9 +35,8 @@ def outer_of(fraction, inner):
     if most % degree != 0:
         return None
     many = most // degree
-    up, down = terms_of(inner)
     top, bottom = terms_of(fraction)
-    lists = [padded(poly, most) for poly in products_of(up, down, many) + [top, bottom]]
+    lists = [padded(poly, most) for poly in powers_over(inner, many) + [top, bottom]]
     done = stepped([list(row) for row in zip(*lists)], many + 3)
     # The products have no common multiple, so all heads ahead of the goals are there; one more
     # is a goal that is not met.

@@ -51,6 +51,20 @@ FUNCTIONS = {
         "is_made_steps": ["fractions", "fraction", "value"], "is_finer": ["fractions", "others"],
     },
     "kept": {"kept_apart": ["fractions", "fraction"], "is_kept_apart": ["fractions", "fraction", "value"]},
+    "lattices": {"joined": ["fraction", "other"], "met": ["fraction", "inner", "other"], "chains": ["fraction"]},
+    "own": {
+        "own_moves": ["fraction"], "is_own_move": ["fraction", "value"], "is_round": ["fraction"],
+        "inside_move": ["fraction", "other"],
+    },
+    "groups": {"grown": ["moves"], "is_group": ["moves"], "one_of_group": ["moves"]},
+    "equations": {
+        "equation": ["curve"], "is_on": ["curve", "point"], "places_at": ["curve", "point"], "letter_back": ["curve"],
+        "is_letter_back": ["curve", "value"],
+    },
+    "doubles": {
+        "double_form": ["curve"], "same_curve": ["curve", "other"], "is_same_move": ["curve", "other", "value"],
+        "other_place": ["curve", "other"], "is_other_place": ["curve", "other", "value"],
+    },
 }
 # Of each class its parameters, and of each method its parameters; None marks a property.
 CLASSES = {
@@ -64,6 +78,9 @@ CLASSES = {
         "degree": None, "is_full": None, "is_move": None, "upper": [], "lower": [], "__add__": ["other"], "__radd__": ["other"],
         "__sub__": ["other"], "__rsub__": ["other"], "__mul__": ["other"], "__rmul__": ["other"], "__neg__": [],
         "over": ["other"], "__eq__": ["other"], "__repr__": [],
+    }),
+    ("curves", "Curve"): (["first", "second"], {
+        "first": [], "second": [], "point": ["place"], "plain": [], "passes": [], "__eq__": ["other"], "__repr__": [],
     }),
 }
 

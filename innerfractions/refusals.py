@@ -30,9 +30,14 @@ def is_told_one(value):
     return isinstance(value, Fraction) and 1 <= value.degree <= MOST_TOLD_DEGREE
 
 
+def are_told_ones(value):
+    """Whether any value is a list of one to four Fractions that may be told."""
+    if not isinstance(value, (list, tuple)) or not 1 <= len(value) <= MOST_TOLD:
+        return False
+    return all([is_told_one(fraction) for fraction in value])
+
+
 def need_fractions(value):
     """InvalidFractions unless the value is a list of one to four Fractions that may be told."""
-    if not isinstance(value, (list, tuple)) or not 1 <= len(value) <= MOST_TOLD:
-        raise InvalidFractions(value)
-    if not all([is_told_one(fraction) for fraction in value]):
+    if not are_told_ones(value):
         raise InvalidFractions(value)

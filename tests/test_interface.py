@@ -65,6 +65,14 @@ FUNCTIONS = {
         "double_form": ["curve"], "same_curve": ["curve", "other"], "is_same_move": ["curve", "other", "value"],
         "other_place": ["curve", "other"], "is_other_place": ["curve", "other", "value"],
     },
+    "texts": {"sorts": [], "is_of_sort": ["sort", "value"], "written": ["sort", "value"]},
+    "readers": {"read": ["text"]},
+    "claims": {
+        "words": [], "is_claim": ["value"], "is_true": ["claim"], "contrary": ["claim"], "paper_of": ["claim"],
+        "is_paper_of": ["claim", "value"],
+    },
+    "commands": {"is_name": ["value"], "is_command": ["value"], "is_deed": ["value"]},
+    "desk": {"tried": ["desk", "action"]},
 }
 # Of each class its parameters, and of each method its parameters; None marks a property.
 CLASSES = {
@@ -82,6 +90,12 @@ CLASSES = {
     ("curves", "Curve"): (["first", "second"], {
         "first": [], "second": [], "point": ["place"], "plain": [], "passes": [], "__eq__": ["other"], "__repr__": [],
     }),
+    ("desk", "Desk"): ([], {
+        "names": None, "labels": None, "__len__": [], "__getitem__": ["at"], "__contains__": ["x"], "__call__": ["command"],
+        "claim_of": ["label"], "do": ["command"], "do_all": ["commands"], "attempt": ["commands"], "attach": ["label", "paper"],
+        "fits": ["label"], "lines": [], "copy": [], "again": ["lines"],
+    }),
+    ("desk", "Trial"): (["desk"], {"__enter__": [], "__exit__": ["kind", "value", "trace"]}),
 }
 
 
@@ -111,8 +125,9 @@ class Interface(unittest.TestCase):
                     told = [one for one in inspect.signature(getattr(held, method)).parameters if one != "self"]
                     self.assertEqual(told, own, method)
 
-    def test_class_method(self):
+    def test_class_methods(self):
         self.assertIsInstance(vars(module_of("ratios").Ratio)["total"], classmethod)
+        self.assertIsInstance(vars(module_of("desk").Desk)["again"], classmethod)
 
 
 if __name__ == "__main__":

@@ -26,6 +26,9 @@ BARRED_WORDS = set("""type typing typing_extensions enum Enum IntEnum StrEnum Fl
     namedtuple NamedTuple TypedDict TYPE_CHECKING abstractmethod dataclass overload contextmanager""".split())
 DOUBLE = set("""__init__ __eq__ __repr__ __str__ __len__ __add__ __sub__ __mul__ __radd__ __rsub__ __rmul__ __neg__
     __contains__ __getitem__ __iter__ __call__ __enter__ __exit__""".split())
+# Of the double-underscore methods those that may change what they like; of the classes those whose methods may.
+FREE = {"__init__", "__call__", "__enter__", "__exit__", "__iter__"}
+CHANGING = {"Desk", "Trial"}
 STATEMENTS = (
     ast.Assign, ast.AugAssign, ast.If, ast.While, ast.For, ast.Return, ast.Break, ast.Continue, ast.Pass, ast.Raise, ast.Assert,
     ast.Delete, ast.Nonlocal, ast.Match, ast.With, ast.Try, ast.Expr, ast.FunctionDef, ast.ClassDef, ast.ImportFrom,
@@ -55,7 +58,12 @@ def assigned_names(tree):
     names += [node.arg for node in nodes(tree, ast.arg)]
     names += [node.name for node in nodes(tree, ast.FunctionDef, ast.ClassDef)]
     names += [part.asname or part.name for node in nodes(tree, ast.ImportFrom) for part in node.names]
+    names += [node.name for node in nodes(tree, ast.ExceptHandler) if node.name]
     return names
+
+
+def is_property(function):
+    return any(isinstance(part, ast.Name) and part.id == "property" for part in function.decorator_list)
 
 
 class Files(unittest.TestCase):
@@ -225,8 +233,8 @@ class Operators(unittest.TestCase):
                 functions.setdefault(node.name, []).append(node)
             for held in nodes(tree, ast.ClassDef):
                 methods = [node for node in held.body if isinstance(node, ast.FunctionDef)]
-                operators = any(node.name in DOUBLE - {"__init__"} for node in methods)
-                started += methods if operators else []
+                operators = [node for node in methods if node.name in DOUBLE - FREE or is_property(node)]
+                started += methods if operators and held.name not in CHANGING else operators
         found, left = [], started
         while left:
             node = left.pop()

@@ -10,8 +10,8 @@ MOST_ONES = 4
 MOST_SIZE = 999999
 MOST_COUNT = 99
 
-# Behind each word the kinds of the words that follow it. NEW and NOTED are names and labels that
-# are not taken yet; two dots stand for up to three more of the kind ahead of them.
+# Behind each word the kinds of the words that follow it. NEW is a name that is not taken yet, as
+# NOTED is such a label; two dots stand for up to three more of the kind ahead of them.
 DEEDS = {
     "fraction": "NEW POLY POLY",
     "letter": "NEW",
@@ -150,7 +150,7 @@ def worth_of(kind, word):
         return within(count_in(word))
     if kind == "INTEGER":
         return within(integer_in(word))
-    return word if kind == "WORD" or is_name(word) else None
+    return word if is_name(word) else None
 
 
 def within(number):

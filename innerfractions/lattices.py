@@ -2,7 +2,7 @@
 
 from innerfractions.errors import NotInner
 from innerfractions.fractions import need_fraction
-from innerfractions.halves import MOST_DEGREE, all_inner
+from innerfractions.halves import all_inner
 from innerfractions.ones import one_of
 from innerfractions.refusals import MOST_TOLD_DEGREE, need_degree, need_full
 from innerfractions.through import outer_of
@@ -29,7 +29,6 @@ def met(fraction, inner, other):
     need_all_full([fraction, inner, other])
     if not are_inner(fraction, inner, other):
         raise NotInner()
-    need_degree(fraction, MOST_DEGREE)
     # All inner ones stand by their degrees, and of the least degree there is just one.
     return [one for one in all_inner(fraction) if are_inner(one, inner, other)][0]
 
@@ -41,15 +40,14 @@ def are_inner(fraction, inner, other):
 
 def chains(fraction):
     """The sorted list of all chains of the fraction."""
-    need_all_full([fraction])
-    need_degree(fraction, MOST_DEGREE)
     ones = all_inner(fraction)
     inner = [[outer_of(one, other) is not None for other in ones] for one in ones]
     # All chains are lists of positions first: so they are sorted as the fractions are.
     ending = [[[0]]]
     for place in range(1, len(ones)):
         ahead = [other for other in range(place) if is_next(inner, other, place)]
-        ending.append([chain + [place] for other in ahead for chain in ending[other]])
+        longer = [chain + [place] for other in ahead for chain in ending[other]]
+        ending.append(longer)
     return [[ones[place] for place in chain] for chain in sorted(ending[-1])]
 
 

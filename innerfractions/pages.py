@@ -7,6 +7,9 @@ from innerfractions.claims import is_claim, is_paper_of, is_true
 from innerfractions.errors import TooMany
 from innerfractions.fractions import Fraction
 
+# The kinds of words that are names of something kept.
+NAMING = ("ONE", "CURVE", "NAME", "OTHER", "INNER")
+
 
 class Page:
     """Things by their names, and by their labels the notes of claims and their states."""
@@ -49,7 +52,7 @@ def first_unknown(things, kinds, worths):
     """The first name under which nothing of the wanted kind is kept; None if there is none."""
     wanted = None
     for kind, name in zip(kinds, worths):
-        if kind in ("ONE", "CURVE", "NAME", "OTHER", "INNER"):
+        if kind in NAMING:
             if name not in things:
                 return name
             found = kind_of(things[name])
@@ -65,8 +68,7 @@ def first_unknown(things, kinds, worths):
 
 def given_of(things, kinds, worths):
     """What the words stand for, things in the place of their names."""
-    naming = ("ONE", "CURVE", "NAME", "OTHER", "INNER")
-    return [things[worth] if kind in naming else worth for kind, worth in zip(kinds, worths)]
+    return [things[worth] if kind in NAMING else worth for kind, worth in zip(kinds, worths)]
 
 
 def tuple_of(things, note):

@@ -5,7 +5,10 @@ from innerfractions.errors import LetterError, LimitError, MissingError, StateEr
 
 ERRORS = (LetterError, MissingError, StateError, LimitError)
 # A cube and a square, a fraction that is not made of the square, a curve, a number, a move.
-KNOWN = ["letter t", "times two t t", "times three two t", "fraction wave 1,0,1 0,1", "curve knot two three", "fraction num 2/3 1", "fraction led 1,2 3,4"]
+KNOWN = [
+    "letter t", "times two t t", "times three two t", "fraction wave 1,0,1 0,1", "curve knot two three",
+    "fraction num 2/3 1", "fraction led 1,2 3,4",
+]
 
 
 def desk_with(*lines):
@@ -24,8 +27,11 @@ def picture(desk):
         except StateError:
             break
     things = {name: desk[name] for name in desk.names}
-    labels = {label: (desk.do("claimed " + label), desk.do("state " + label), desk.claim_of(label), desk.fits(label)) for label in desk.labels}
-    return repr(things), desk.names, repr(labels), desk.labels, desk.lines(), len(desk), desk.do("states"), desk.do("names"), ahead
+    labels = {}
+    for label in desk.labels:
+        labels[label] = desk.do("claimed " + label), desk.do("state " + label), desk.claim_of(label), desk.fits(label)
+    told = desk.do("states"), desk.do("names")
+    return repr(things), desk.names, repr(labels), desk.labels, desk.lines(), len(desk), *told, ahead
 
 
 def failure(function, *given):

@@ -13,12 +13,14 @@ OTHER_SIGN, OVER, THIRD = Fraction([0, -1]), Fraction([1], [0, 1]), Fraction([1]
 FOURTH, SIXTH = Fraction([1, 1], [1, -1]), Fraction([-1, 2], [1, 1])
 # Moves, and how many members the group has that they grow to.
 GROWING = [
-    ([T], 1), ([OTHER_SIGN], 2), ([OVER], 2), ([THIRD], 3), ([FOURTH], 4), ([OTHER_SIGN, OVER], 4), ([THIRD, OVER], 6), ([SIXTH], 6),
+    ([T], 1), ([OTHER_SIGN], 2), ([OVER], 2), ([THIRD], 3), ([FOURTH], 4), ([OTHER_SIGN, OVER], 4), ([THIRD, OVER], 6),
+    ([SIXTH], 6),
     ([FOURTH, OTHER_SIGN], 8), ([SIXTH, OVER], 12),
 ]
 # Moves whose group is not finite.
 ENDLESS = [
-    [T + 1], [T * 2], [OVER, T + 1], [THIRD, OTHER_SIGN], [Fraction([1, 2], [1, 1])], [FOURTH, THIRD], [OTHER_SIGN, 1 - T], [Fraction([1, 1], [2])],
+    [T + 1], [T * 2], [OVER, T + 1], [THIRD, OTHER_SIGN], [Fraction([1, 2], [1, 1])], [FOURTH, THIRD],
+    [OTHER_SIGN, 1 - T], [Fraction([1, 1], [2])],
     [T * -2], [SIXTH, OTHER_SIGN], [OVER, Fraction([2], [0, 1])],
 ]
 

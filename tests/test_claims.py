@@ -3,8 +3,10 @@
 import copy
 import unittest
 
-from drawn_curves import CUSP, FIFTH, FOURTH, KNOT, KNOWN, LEVEL, LINE, NO_CURVES, NO_POINTS, RING, TWICE, UPRIGHT, draw_curve, moved
-from helpers import EIGHTH, LETTER, NINTH, NO_FRACTION_LISTS, NO_FRACTIONS, STRANGE, check_call, check_raises, check_refusals, draw_fraction, drawing
+from drawn_curves import CUSP, FIFTH, FOURTH, KNOT, KNOWN, LEVEL, LINE, NO_CURVES, NO_POINTS, RING, TWICE, UPRIGHT
+from drawn_curves import draw_curve, moved
+from helpers import EIGHTH, LETTER, NINTH, NO_FRACTION_LISTS, NO_FRACTIONS, STRANGE, check_call, check_raises
+from helpers import check_refusals, draw_fraction, drawing
 from innerfractions.claims import contrary, is_claim, is_paper_of, is_true, paper_of, words
 from innerfractions.curves import Curve
 from innerfractions.doubles import is_other_place, is_same_move, same_curve
@@ -22,7 +24,9 @@ from innerfractions.ratios import Ratio
 from innerfractions.twins import common_part
 from moving import FOURTH as QUARTER
 
-WORDS = [("made", "kept"), ("inner", "apart"), ("one", "notone"), ("whole", "halved"), ("on", "off"), ("same", "unlike")]
+WORDS = [
+    ("made", "kept"), ("inner", "apart"), ("one", "notone"), ("whole", "halved"), ("on", "off"), ("same", "unlike"),
+]
 SQUARE, CUBE, WAVE = Fraction([0, 0, 1]), Fraction([0, 0, 0, 1]), Fraction([1, 0, 1], [0, 1])
 BOTH, NEAR = Fraction([1, 0, 0, 0, 1], [0, 0, 1]), Fraction([-1, 0, 1], [0, 1])
 NUMBER = Fraction([Ratio(2, 3)])
@@ -34,23 +38,38 @@ def power(many):
 
 # Of each line the parts, and whether the first word is true of them.
 KNOWN_CLAIMS = [
-    ("made", ([SQUARE, CUBE], LETTER), True), ("made", ([SQUARE], LETTER), False), ("made", ((SQUARE,), power(8)), True), ("made", ([power(6)], SQUARE), False), ("made", ([SQUARE], NUMBER), True),
-    ("made", ([power(6), power(8), power(4), power(2)], SQUARE), True), ("made", ([BOTH, NEAR], WAVE), False), ("made", ([EIGHTH], Fraction([])), True), ("made", ([power(4), power(6)], CUBE), False),
-    ("inner", (BOTH, WAVE), True), ("inner", (CUBE, SQUARE), False), ("inner", (SQUARE, CUBE), False), ("inner", (power(12), power(4)), True), ("inner", (power(12), power(5)), False), ("inner", (SQUARE, SQUARE), True),
-    ("inner", (LETTER, Fraction([1], [0, 1])), True), ("inner", (power(12), LETTER), True), ("inner", (LETTER, power(12)), False),
-    ("one", ([SQUARE, CUBE], LETTER), True), ("one", ([SQUARE, CUBE], Fraction([1, 2], [3, 4])), True), ("one", ([SQUARE, CUBE], SQUARE), False), ("one", ((power(4), power(6)), Fraction([1], [0, 0, 1])), True),
-    ("one", ([BOTH, NEAR], WAVE), False), ("one", ([EIGHTH] * 4, EIGHTH), True), ("one", ([EIGHTH], LETTER), False), ("one", ([power(6)], power(3)), False),
-    ("whole", (SQUARE,), True), ("whole", (CUBE,), True), ("whole", (power(4),), False), ("whole", (BOTH,), False), ("whole", (power(5),), True), ("whole", (power(6),), False),
-    ("whole", (Fraction([1, 1, 0, 0, 1], [0, 0, 0, 1]),), True), ("whole", (put(CUBE, WAVE),), False), ("whole", (put(WAVE, CUBE + LETTER),), False),
-    ("on", (RING, (Ratio(3, 5), Ratio(4, 5))), True), ("on", (RING, (1, 1)), False), ("on", (KNOT, (0, 0)), True), ("on", (RING, (-1, 0)), True), ("on", (UPRIGHT, (Ratio(2, 3), 0)), True),
-    ("on", (UPRIGHT, (0, 0)), False), ("on", (FIFTH, (32, 4)), True), ("on", (FIFTH, (32, -4)), False), ("on", (Curve(SQUARE, Fraction([0, 2, 0, -1, 1])), (2, 4)), True), ("on", (LEVEL, (2, 1)), False),
-    ("same", (KNOT, moved(KNOT, LETTER + 1)), True), ("same", (KNOT, RING), False), ("same", (TWICE, TWICE.plain()), True), ("same", (LINE, UPRIGHT), False), ("same", (CUSP, Curve(SQUARE, CUBE * 2)), False),
+    ("made", ([SQUARE, CUBE], LETTER), True), ("made", ([SQUARE], LETTER), False),
+    ("made", ((SQUARE,), power(8)), True), ("made", ([power(6)], SQUARE), False), ("made", ([SQUARE], NUMBER), True),
+    ("made", ([power(6), power(8), power(4), power(2)], SQUARE), True), ("made", ([BOTH, NEAR], WAVE), False),
+    ("made", ([EIGHTH], Fraction([])), True), ("made", ([power(4), power(6)], CUBE), False),
+    ("inner", (BOTH, WAVE), True), ("inner", (CUBE, SQUARE), False), ("inner", (SQUARE, CUBE), False),
+    ("inner", (power(12), power(4)), True), ("inner", (power(12), power(5)), False), ("inner", (SQUARE, SQUARE), True),
+    ("inner", (LETTER, Fraction([1], [0, 1])), True), ("inner", (power(12), LETTER), True),
+    ("inner", (LETTER, power(12)), False),
+    ("one", ([SQUARE, CUBE], LETTER), True), ("one", ([SQUARE, CUBE], Fraction([1, 2], [3, 4])), True),
+    ("one", ([SQUARE, CUBE], SQUARE), False), ("one", ((power(4), power(6)), Fraction([1], [0, 0, 1])), True),
+    ("one", ([BOTH, NEAR], WAVE), False), ("one", ([EIGHTH] * 4, EIGHTH), True), ("one", ([EIGHTH], LETTER), False),
+    ("one", ([power(6)], power(3)), False),
+    ("whole", (SQUARE,), True), ("whole", (CUBE,), True), ("whole", (power(4),), False), ("whole", (BOTH,), False),
+    ("whole", (power(5),), True), ("whole", (power(6),), False),
+    ("whole", (Fraction([1, 1, 0, 0, 1], [0, 0, 0, 1]),), True), ("whole", (put(CUBE, WAVE),), False),
+    ("whole", (put(WAVE, CUBE + LETTER),), False),
+    ("on", (RING, (Ratio(3, 5), Ratio(4, 5))), True), ("on", (RING, (1, 1)), False), ("on", (KNOT, (0, 0)), True),
+    ("on", (RING, (-1, 0)), True), ("on", (UPRIGHT, (Ratio(2, 3), 0)), True),
+    ("on", (UPRIGHT, (0, 0)), False), ("on", (FIFTH, (32, 4)), True), ("on", (FIFTH, (32, -4)), False),
+    ("on", (Curve(SQUARE, Fraction([0, 2, 0, -1, 1])), (2, 4)), True), ("on", (LEVEL, (2, 1)), False),
+    ("same", (KNOT, moved(KNOT, LETTER + 1)), True), ("same", (KNOT, RING), False),
+    ("same", (TWICE, TWICE.plain()), True), ("same", (LINE, UPRIGHT), False),
+    ("same", (CUSP, Curve(SQUARE, CUBE * 2)), False),
     ("same", (CUSP, moved(CUSP, SQUARE - 1)), True), ("same", (FIFTH, FIFTH), True), ("same", (FIFTH, FOURTH), False),
 ]
 # Values that some papers are, or nearly.
 VALUES = [
-    None, True, False, 0, 1, -1, Ratio(1, 2), "beyond", "beside", [], (), [1], [0, 1], [0, 0, 1], [1, 0], [-1, 0, 1], LETTER, SQUARE, CUBE, NUMBER, Fraction([1, 1]), (SQUARE, 1), (LETTER, 1), (SQUARE, SQUARE),
-    (SQUARE, CUBE), [SQUARE, SQUARE], ([SQUARE, CUBE], 1), ([LETTER], 1), ([SQUARE], "beyond"), [(1, 0, [[0], [1]], [[0, 1]])], [(0, 0, [[0], [1]], [[1]])], ((0, 0, [[0], [1]], [[1]]),), (0, 0, [[0], [1]], [[1]]),
+    None, True, False, 0, 1, -1, Ratio(1, 2), "beyond", "beside", [], (), [1], [0, 1], [0, 0, 1], [1, 0], [-1, 0, 1],
+    LETTER, SQUARE, CUBE, NUMBER, Fraction([1, 1]), (SQUARE, 1), (LETTER, 1), (SQUARE, SQUARE),
+    (SQUARE, CUBE), [SQUARE, SQUARE], ([SQUARE, CUBE], 1), ([LETTER], 1), ([SQUARE], "beyond"),
+    [(1, 0, [[0], [1]], [[0, 1]])], [(0, 0, [[0], [1]], [[1]])], ((0, 0, [[0], [1]], [[1]]),),
+    (0, 0, [[0], [1]], [[1]]),
     KNOT, STRANGE, {}, {0: 1}, object(), Fraction, "paper", b"paper",
 ]
 
@@ -60,18 +79,24 @@ def judged(word, parts, value):
     if word in ("made", "kept"):
         return (is_made_steps if word == "made" else is_kept_apart)(*parts, value)
     if word == "inner":
-        return isinstance(value, Fraction) and value.degree * parts[1].degree == parts[0].degree and put(value, parts[1]) == parts[0]
+        if not isinstance(value, Fraction) or value.degree * parts[1].degree != parts[0].degree:
+            return False
+        return put(value, parts[1]) == parts[0]
     if word == "apart":
         return is_parting_place(*parts, value)
     if word == "one":
-        if not isinstance(value, tuple) or len(value) != 2 or not isinstance(value[0], (list, tuple)) or not is_place(value[1]):
+        if not isinstance(value, tuple) or len(value) != 2 or not isinstance(value[0], (list, tuple)):
+            return False
+        if not is_place(value[1]):
             return False
         if len(value[0]) != len(parts[0]) or not all(isinstance(one, Fraction) for one in value[0]):
             return False
         met = all(one == outer(told, parts[1]) for one, told in zip(value[0], parts[0]))
         return met and len(common_part(parts[0], value[1])) == parts[1].degree + 1
     if word == "halved":
-        if not isinstance(value, tuple) or len(value) != 2 or not all(isinstance(one, Fraction) and one.degree >= 2 for one in value):
+        if not isinstance(value, tuple) or len(value) != 2 or not all(
+            isinstance(one, Fraction) and one.degree >= 2 for one in value
+        ):
             return False
         return is_inner(parts[0], value[1]) and outer(parts[0], value[1]) == value[0]
     if word == "on":
@@ -164,8 +189,11 @@ class Claims(unittest.TestCase):
 
     def test_parts_as_they_were_passed(self):
         for claim, other in [
-            (("one", (SQUARE,), CUBE), ("notone", (SQUARE,), CUBE)), (("made", [SQUARE], CUBE), ("kept", [SQUARE], CUBE)), (("on", KNOT, (0, Ratio(4, 2))), ("off", KNOT, (0, Ratio(4, 2)))),
-            (("unlike", KNOT, RING), ("same", KNOT, RING)), (("halved", CUBE), ("whole", CUBE)), (("apart", CUBE, SQUARE), ("inner", CUBE, SQUARE)),
+            (("one", (SQUARE,), CUBE), ("notone", (SQUARE,), CUBE)),
+            (("made", [SQUARE], CUBE), ("kept", [SQUARE], CUBE)),
+            (("on", KNOT, (0, Ratio(4, 2))), ("off", KNOT, (0, Ratio(4, 2)))),
+            (("unlike", KNOT, RING), ("same", KNOT, RING)), (("halved", CUBE), ("whole", CUBE)),
+            (("apart", CUBE, SQUARE), ("inner", CUBE, SQUARE)),
         ]:
             made = check_call(self, contrary, {"claim": claim})
             self.assertEqual(made, other)
@@ -200,19 +228,41 @@ def bends(paper):
 class Papers(unittest.TestCase):
     def test_shown(self):
         for claim, value, wanted in [
-            (("made", [SQUARE, CUBE], LETTER), [(0, 1, [[0, 1]], [[0], [1]])], True), (("made", [SQUARE, CUBE], LETTER), ((0, 1, ((0, 1),), ((0,), (1,))),), True), (("made", [SQUARE, CUBE], LETTER), [(1, 0, [[0, 1]], [[0], [1]])], False),
-            (("kept", [SQUARE], LETTER), (SQUARE, 1), True), (("kept", [SQUARE], LETTER), [SQUARE, 1], False), (("kept", [SQUARE], NUMBER), (SQUARE, 1), False),
-            (("inner", BOTH, WAVE), Fraction([-2, 0, 1]), True), (("inner", BOTH, WAVE), Fraction([-1, 0, 1]), False), (("inner", BOTH, WAVE), power(24), False), (("inner", CUBE, SQUARE), NUMBER, False),
-            (("apart", CUBE, SQUARE), 1, True), (("apart", CUBE, SQUARE), Ratio(1), True), (("apart", CUBE, SQUARE), 0, False), (("apart", CUBE, SQUARE), "beyond", False), (("apart", BOTH, WAVE), 1, False),
-            (("one", [SQUARE, CUBE], LETTER), ([SQUARE, CUBE], 1), True), (("one", [SQUARE, CUBE], LETTER), ((SQUARE, CUBE), 1), True), (("one", [SQUARE, CUBE], LETTER), ([SQUARE, CUBE], 0), False),
-            (("one", [SQUARE, CUBE], LETTER), [[SQUARE, CUBE], 1], False), (("one", [SQUARE, CUBE], LETTER + 1), ([put(SQUARE, LETTER - 1), put(CUBE, LETTER - 1)], 1), True), (("one", [SQUARE, CUBE], LETTER), ([CUBE, SQUARE], 1), False),
-            (("one", [power(4)], SQUARE), ([SQUARE], 1), False), (("one", [power(4)], power(4)), ([LETTER], 1), True), (("one", [power(4)], power(4)), ([LETTER], "beyond"), True), (("notone", [power(4)], SQUARE), ([SQUARE], 1), False),
-            (("halved", power(4)), (SQUARE, SQUARE), True), (("halved", power(4)), [SQUARE, SQUARE], False), (("halved", power(4)), (LETTER, power(4)), False), (("halved", power(4)), (power(4), LETTER), False),
-            (("halved", power(6)), (SQUARE, CUBE), True), (("halved", power(6)), (CUBE, SQUARE), True), (("halved", power(6)), (SQUARE, SQUARE), False), (("whole", power(6)), (SQUARE, CUBE), False), (("halved", BOTH), (Fraction([-2, 0, 1]), WAVE), True),
-            (("halved", power(4)), (power(24), SQUARE), False), (("halved", power(4)), (NUMBER, SQUARE), False), (("halved", power(4)), (SQUARE, SQUARE, SQUARE), False),
-            (("on", KNOT, (0, 0)), [-1, 0, 1], True), (("on", KNOT, (0, 0)), (2, 0, Ratio(-2)), True), (("on", KNOT, (0, 0)), [-1, 0, 1, 0], False), (("on", KNOT, (0, 0)), [-1, 1], False), (("on", KNOT, (0, 0)), [0, 0, 0], False),
-            (("on", RING, (-1, 0)), [7, 0], True), (("on", RING, (-1, 0)), [7], False), (("off", KNOT, (0, 1)), [1], False), (("off", KNOT, (0, 1)), None, False), (("on", KNOT, (0, 1)), None, False),
-            (("same", KNOT, moved(KNOT, LETTER + 1)), LETTER + 1, True), (("same", KNOT, moved(KNOT, LETTER + 1)), LETTER, False), (("unlike", KNOT, moved(KNOT, LETTER + 1)), 7, False), (("unlike", KNOT, RING), 7, True),
+            (("made", [SQUARE, CUBE], LETTER), [(0, 1, [[0, 1]], [[0], [1]])], True),
+            (("made", [SQUARE, CUBE], LETTER), ((0, 1, ((0, 1),), ((0,), (1,))),), True),
+            (("made", [SQUARE, CUBE], LETTER), [(1, 0, [[0, 1]], [[0], [1]])], False),
+            (("kept", [SQUARE], LETTER), (SQUARE, 1), True), (("kept", [SQUARE], LETTER), [SQUARE, 1], False),
+            (("kept", [SQUARE], NUMBER), (SQUARE, 1), False),
+            (("inner", BOTH, WAVE), Fraction([-2, 0, 1]), True), (("inner", BOTH, WAVE), Fraction([-1, 0, 1]), False),
+            (("inner", BOTH, WAVE), power(24), False), (("inner", CUBE, SQUARE), NUMBER, False),
+            (("apart", CUBE, SQUARE), 1, True), (("apart", CUBE, SQUARE), Ratio(1), True),
+            (("apart", CUBE, SQUARE), 0, False), (("apart", CUBE, SQUARE), "beyond", False),
+            (("apart", BOTH, WAVE), 1, False),
+            (("one", [SQUARE, CUBE], LETTER), ([SQUARE, CUBE], 1), True),
+            (("one", [SQUARE, CUBE], LETTER), ((SQUARE, CUBE), 1), True),
+            (("one", [SQUARE, CUBE], LETTER), ([SQUARE, CUBE], 0), False),
+            (("one", [SQUARE, CUBE], LETTER), [[SQUARE, CUBE], 1], False),
+            (("one", [SQUARE, CUBE], LETTER + 1), ([put(SQUARE, LETTER - 1), put(CUBE, LETTER - 1)], 1), True),
+            (("one", [SQUARE, CUBE], LETTER), ([CUBE, SQUARE], 1), False),
+            (("one", [power(4)], SQUARE), ([SQUARE], 1), False), (("one", [power(4)], power(4)), ([LETTER], 1), True),
+            (("one", [power(4)], power(4)), ([LETTER], "beyond"), True),
+            (("notone", [power(4)], SQUARE), ([SQUARE], 1), False),
+            (("halved", power(4)), (SQUARE, SQUARE), True), (("halved", power(4)), [SQUARE, SQUARE], False),
+            (("halved", power(4)), (LETTER, power(4)), False), (("halved", power(4)), (power(4), LETTER), False),
+            (("halved", power(6)), (SQUARE, CUBE), True), (("halved", power(6)), (CUBE, SQUARE), True),
+            (("halved", power(6)), (SQUARE, SQUARE), False), (("whole", power(6)), (SQUARE, CUBE), False),
+            (("halved", BOTH), (Fraction([-2, 0, 1]), WAVE), True),
+            (("halved", power(4)), (power(24), SQUARE), False), (("halved", power(4)), (NUMBER, SQUARE), False),
+            (("halved", power(4)), (SQUARE, SQUARE, SQUARE), False),
+            (("on", KNOT, (0, 0)), [-1, 0, 1], True), (("on", KNOT, (0, 0)), (2, 0, Ratio(-2)), True),
+            (("on", KNOT, (0, 0)), [-1, 0, 1, 0], False), (("on", KNOT, (0, 0)), [-1, 1], False),
+            (("on", KNOT, (0, 0)), [0, 0, 0], False),
+            (("on", RING, (-1, 0)), [7, 0], True), (("on", RING, (-1, 0)), [7], False),
+            (("off", KNOT, (0, 1)), [1], False), (("off", KNOT, (0, 1)), None, False),
+            (("on", KNOT, (0, 1)), None, False),
+            (("same", KNOT, moved(KNOT, LETTER + 1)), LETTER + 1, True),
+            (("same", KNOT, moved(KNOT, LETTER + 1)), LETTER, False),
+            (("unlike", KNOT, moved(KNOT, LETTER + 1)), 7, False), (("unlike", KNOT, RING), 7, True),
             (("unlike", KNOT, RING), "beyond", False), (("same", KNOT, RING), LETTER, False),
         ]:
             self.assertIs(is_paper_of(claim, value), wanted, (claim, value))
@@ -227,20 +277,41 @@ class Papers(unittest.TestCase):
                 point = curve.point(place)
                 if "beyond" not in point:
                     self.assertIs(is_paper_of(("on", curve, point), places_at(curve, point)), True)
-                    self.assertIs(is_paper_of(("on", curve, point), told_form([3 * number for number in places_at(curve, point)])), True)
+                    self.assertIs(
+                        is_paper_of(
+                            ("on", curve, point), told_form([3 * number for number in places_at(curve, point)]),
+                        ),
+                        True,
+                    )
 
 
 class Judged(unittest.TestCase):
     def test_parts_at_their_bounds(self):
         for claim, wanted in [
-            (("made", [EIGHTH] * 4, EIGHTH), True), (("made", [EIGHTH] * 5, EIGHTH), False), (("made", [EIGHTH], NINTH), False), (("kept", [NINTH], LETTER), False), (("made", [EIGHTH], NUMBER), True), (("kept", [NUMBER], LETTER), False),
-            (("made", [], LETTER), False), (("made", (EIGHTH,), LETTER), True), (("inner", power(12), power(12)), True), (("inner", power(13), LETTER), False), (("apart", LETTER, power(13)), False), (("inner", NUMBER, LETTER), False),
-            (("apart", LETTER, NUMBER), False), (("one", [EIGHTH], EIGHTH), True), (("one", [EIGHTH], NINTH), False), (("notone", [EIGHTH], NUMBER), False), (("notone", [NINTH], LETTER), False), (("one", [SQUARE, NUMBER], LETTER), False),
-            (("whole", power(6)), True), (("whole", power(7)), False), (("halved", LETTER), False), (("whole", SQUARE), True), (("halved", NUMBER), False), (("on", KNOT, (1, Ratio(1, 2))), True), (("off", KNOT, (1, "beyond")), False),
-            (("on", KNOT, [1, 2]), False), (("same", KNOT, FIFTH), True), (("unlike", KNOT, None), False), (("same", KNOT), False), (("same", KNOT, KNOT, KNOT), False), (("whole", CUBE, CUBE), False), (("made", [SQUARE]), False),
-            (["made", [SQUARE], LETTER], False), (("Made", [SQUARE], LETTER), False), (("made ", [SQUARE], LETTER), False), ((b"made", [SQUARE], LETTER), False), (("is", [SQUARE], LETTER), False), (("", [SQUARE], LETTER), False), (("made", SQUARE, LETTER), False),
-            ((), False), (("made",), False), ((None, [SQUARE], LETTER), False), ((["made"], [SQUARE], LETTER), False), (("on", KNOT, (1,)), False), (("on", SQUARE, (1, 1)), False), (("on", KNOT, (True, 1)), False), (("inner", SQUARE, [LETTER]), False),
-            (("one", [SQUARE], [SQUARE]), False), (("whole", [SQUARE]), False), (("whole",), False), ((("made", "kept"), [SQUARE], LETTER), False), ((0, [SQUARE], LETTER), False), (("apart", SQUARE, 1), False),
+            (("made", [EIGHTH] * 4, EIGHTH), True), (("made", [EIGHTH] * 5, EIGHTH), False),
+            (("made", [EIGHTH], NINTH), False), (("kept", [NINTH], LETTER), False), (("made", [EIGHTH], NUMBER), True),
+            (("kept", [NUMBER], LETTER), False),
+            (("made", [], LETTER), False), (("made", (EIGHTH,), LETTER), True), (("inner", power(12), power(12)), True),
+            (("inner", power(13), LETTER), False), (("apart", LETTER, power(13)), False),
+            (("inner", NUMBER, LETTER), False),
+            (("apart", LETTER, NUMBER), False), (("one", [EIGHTH], EIGHTH), True), (("one", [EIGHTH], NINTH), False),
+            (("notone", [EIGHTH], NUMBER), False), (("notone", [NINTH], LETTER), False),
+            (("one", [SQUARE, NUMBER], LETTER), False),
+            (("whole", power(6)), True), (("whole", power(7)), False), (("halved", LETTER), False),
+            (("whole", SQUARE), True), (("halved", NUMBER), False), (("on", KNOT, (1, Ratio(1, 2))), True),
+            (("off", KNOT, (1, "beyond")), False),
+            (("on", KNOT, [1, 2]), False), (("same", KNOT, FIFTH), True), (("unlike", KNOT, None), False),
+            (("same", KNOT), False), (("same", KNOT, KNOT, KNOT), False), (("whole", CUBE, CUBE), False),
+            (("made", [SQUARE]), False),
+            (["made", [SQUARE], LETTER], False), (("Made", [SQUARE], LETTER), False),
+            (("made ", [SQUARE], LETTER), False), ((b"made", [SQUARE], LETTER), False),
+            (("is", [SQUARE], LETTER), False), (("", [SQUARE], LETTER), False), (("made", SQUARE, LETTER), False),
+            ((), False), (("made",), False), ((None, [SQUARE], LETTER), False), ((["made"], [SQUARE], LETTER), False),
+            (("on", KNOT, (1,)), False), (("on", SQUARE, (1, 1)), False), (("on", KNOT, (True, 1)), False),
+            (("inner", SQUARE, [LETTER]), False),
+            (("one", [SQUARE], [SQUARE]), False), (("whole", [SQUARE]), False), (("whole",), False),
+            ((("made", "kept"), [SQUARE], LETTER), False), ((0, [SQUARE], LETTER), False),
+            (("apart", SQUARE, 1), False),
         ]:
             self.assertIs(is_claim(claim), wanted, claim)
             self.assertIs(is_claim(value=claim), wanted)
@@ -253,23 +324,33 @@ class Judged(unittest.TestCase):
             for word in ("made", "kept", "one", "notone"):
                 self.assertIs(is_claim((word, value, LETTER)), False)
         for value in NO_FRACTIONS:
-            for claim in (("made", [SQUARE], value), ("one", [SQUARE], value), ("inner", value, LETTER), ("apart", LETTER, value), ("whole", value), ("halved", value)):
+            for claim in (
+                ("made", [SQUARE], value), ("one", [SQUARE], value), ("inner", value, LETTER), ("apart", LETTER, value),
+                ("whole", value), ("halved", value),
+            ):
                 self.assertIs(is_claim(claim), False)
         for value in NO_CURVES:
-            for claim in (("on", value, (0, 0)), ("off", value, (0, 0)), ("same", value, KNOT), ("unlike", KNOT, value)):
+            for claim in (
+                ("on", value, (0, 0)), ("off", value, (0, 0)), ("same", value, KNOT), ("unlike", KNOT, value),
+            ):
                 self.assertIs(is_claim(claim), False)
         for value in NO_POINTS:
             self.assertIs(is_claim(("on", KNOT, value)), False)
             self.assertIs(is_claim(("off", KNOT, value)), False)
 
     def test_any_value(self):
-        values = [None, True, 0, "made", b"", [], {}, LETTER, KNOT, Ratio(1), STRANGE, object(), Fraction, ("made", STRANGE, STRANGE), (STRANGE,), (STRANGE, [SQUARE], LETTER)]
+        values = [
+            None, True, 0, "made", b"", [], {}, LETTER, KNOT, Ratio(1), STRANGE, object(), Fraction,
+            ("made", STRANGE, STRANGE), (STRANGE,), (STRANGE, [SQUARE], LETTER),
+        ]
         for value in values:
             self.assertIs(is_claim(value), False)
         check_refusals(self, is_true, [("claim", InvalidClaim, values)], {"claim": ("whole", CUBE)})
         check_refusals(self, contrary, [("claim", InvalidClaim, values)], {"claim": ("on", KNOT, (0, 0))})
         check_refusals(self, paper_of, [("claim", InvalidClaim, values)], {"claim": ("halved", CUBE)})
-        check_refusals(self, is_paper_of, [("claim", InvalidClaim, values)], {"claim": ("notone", [CUBE], CUBE), "value": None})
+        check_refusals(
+            self, is_paper_of, [("claim", InvalidClaim, values)], {"claim": ("notone", [CUBE], CUBE), "value": None},
+        )
 
     def test_what_was_passed_stays(self):
         told = [SQUARE, CUBE]

@@ -8,25 +8,43 @@ from innerfractions.ratios import Ratio
 
 # Each command once, with the kinds of the words behind the first one: of names, or of others.
 DEEDS = [
-    ("fraction f 1,0,1/2 0,1", "n p p"), ("letter t", "n"), ("sum a b c", "n n n"), ("less a b c", "n n n"), ("times a b c", "n n n"), ("over a b c", "n n n"), ("put a b c", "n n n"), ("slope a b", "n n"),
-    ("class a b", "n n"), ("outer a b c", "n n n"), ("undone a b", "n n"), ("power a b -3", "n n i"), ("joined a b c", "n n n"), ("met a b c d", "n n n n"), ("curve c f g", "n n n"), ("plain d c", "n n"),
-    ("first a c", "n n"), ("second a c", "n n"), ("top f 1,2", "n p"), ("bottom f -", "n p"), ("drop f", "n"), ("forget k", "n"),
-    ("claim k inner f g", "n w n n"), ("claim k apart f g", "n w n n"), ("claim k whole f", "n w n"), ("claim k halved f", "n w n"), ("claim k on c 1 -1/2", "n w n r r"), ("claim k off c 0 0", "n w n r r"),
+    ("fraction f 1,0,1/2 0,1", "n p p"), ("letter t", "n"), ("sum a b c", "n n n"), ("less a b c", "n n n"),
+    ("times a b c", "n n n"), ("over a b c", "n n n"), ("put a b c", "n n n"), ("slope a b", "n n"),
+    ("class a b", "n n"), ("outer a b c", "n n n"), ("undone a b", "n n"), ("power a b -3", "n n i"),
+    ("joined a b c", "n n n"), ("met a b c d", "n n n n"), ("curve c f g", "n n n"), ("plain d c", "n n"),
+    ("first a c", "n n"), ("second a c", "n n"), ("top f 1,2", "n p"), ("bottom f -", "n p"), ("drop f", "n"),
+    ("forget k", "n"),
+    ("claim k inner f g", "n w n n"), ("claim k apart f g", "n w n n"), ("claim k whole f", "n w n"),
+    ("claim k halved f", "n w n"), ("claim k on c 1 -1/2", "n w n r r"), ("claim k off c 0 0", "n w n r r"),
     ("claim k same c d", "n w n n"), ("claim k unlike c d", "n w n n"),
 ]
 QUESTIONS = [
-    ("undo", ""), ("redo", ""), ("state k", "n"), ("states", ""), ("claimed k", "n"), ("names", ""), ("show f", "n"), ("degree f", "n"), ("worth f 1/2", "n l"), ("worth f beyond", "n l"), ("taken f -3", "n l"),
-    ("order f", "n"), ("fixed f", "n"), ("inners f 2", "n c"), ("moves f", "n"), ("round f", "n"), ("point c 7", "n l"), ("equation c", "n"), ("same f g", "n n"),
+    ("undo", ""), ("redo", ""), ("state k", "n"), ("states", ""), ("claimed k", "n"), ("names", ""), ("show f", "n"),
+    ("degree f", "n"), ("worth f 1/2", "n l"), ("worth f beyond", "n l"), ("taken f -3", "n l"),
+    ("order f", "n"), ("fixed f", "n"), ("inners f 2", "n c"), ("moves f", "n"), ("round f", "n"), ("point c 7", "n l"),
+    ("equation c", "n"), ("same f g", "n n"),
 ]
 # Words behind which from one to four names of fractions stand, with what stands ahead of these.
-DOTTED = [("oneof a", True), ("tells", False), ("claim k made f", True), ("claim k kept f", True), ("claim k one f", True), ("claim k notone f", True)]
+DOTTED = [
+    ("oneof a", True), ("tells", False), ("claim k made f", True), ("claim k kept f", True), ("claim k one f", True),
+    ("claim k notone f", True),
+]
 NO_NAMES = ["", "A", "1a", "aB", "a_b", "a-b", "a b", "a,b", "abcdefghi", "-", "1", "a.", "a/b", "a\n", " a", "a "]
 NAMES = ["a", "z9", "abcdefgh", "a1234567", "beyond", "fraction", "undo", "claim", "made"]
-NO_NUMBERS = ["", "+1", "01", "-0", "1/1", "1/0", "2/4", "0/2", "1/-2", "1.5", "1000000", "-1000000", "1/1000000", "1000000/3", "x", "--1", "1/2/3", "1/", "/2", "1,2", "-", "1e2", "-01", "00"]
+NO_NUMBERS = [
+    "", "+1", "01", "-0", "1/1", "1/0", "2/4", "0/2", "1/-2", "1.5", "1000000", "-1000000", "1/1000000", "1000000/3",
+    "x", "--1", "1/2/3", "1/", "/2", "1,2", "-", "1e2", "-01", "00",
+]
 NUMBERS = ["0", "1", "-1", "999999", "-999999", "1/2", "-1/2", "999999/999998", "-1/999999", "123456/7"]
 OTHER_WORDS = {
     "n": (NO_NAMES, NAMES),
-    "p": ([word for word in NO_NUMBERS if word not in ("-", "1,2")] + ["1,", ",1", "1,,2", "1,-0", "1;2", "--", "-,1", "1,-", ",".join(["1"] * 26), "0,x", "beyond", "f", "1,1000000", "1,2/4"], NUMBERS + ["-", "0,0", "1,0,0", "1/2,-3", ",".join(["0"] * 25)]),
+    "p": (
+        [word for word in NO_NUMBERS if word not in ("-", "1,2")] + [
+            "1,", ",1", "1,,2", "1,-0", "1;2", "--", "-,1", "1,-", ",".join(["1"] * 26), "0,x", "beyond", "f",
+            "1,1000000", "1,2/4",
+        ],
+        NUMBERS + ["-", "0,0", "1,0,0", "1/2,-3", ",".join(["0"] * 25)],
+    ),
     "i": (NO_NUMBERS + ["1/2", "100", "-100", "999", "x", "beyond"], ["0", "1", "-1", "99", "-99", "20", "-21"]),
     "c": (NO_NUMBERS + ["1/2", "-1", "100", "x"], ["0", "1", "9", "10", "99"]),
     "r": (NO_NUMBERS + ["beyond", "f"], NUMBERS),
@@ -60,7 +78,11 @@ class Commands(unittest.TestCase):
     def test_blanks_more(self):
         for lines in (DEEDS, QUESTIONS):
             for line, _ in lines:
-                for other in (line + " ", " " + line, line + "\n", "\n" + line, line.replace(" ", "  ", 1) + ("" if " " in line else " "), line.upper(), line.capitalize(), "\t" + line):
+                for other in (
+                    line + " ", " " + line, line + "\n", "\n" + line,
+                    line.replace(" ", "  ", 1) + ("" if " " in line else " "), line.upper(), line.capitalize(),
+                    "\t" + line,
+                ):
                     self.judge(other, False, False)
                 for at in range(1, len(line)):
                     if line[at] == " ":
@@ -91,11 +113,17 @@ class Commands(unittest.TestCase):
             self.judge(line + " g g", True, deed)
 
     def test_no_words_of_the_tables(self):
-        for line in ("", " ", "foo", "foo a", "made f g", "claim", "claim k", "claim k is f", "kept f g", "on c 1 1", "Undo", "undo undo", "lines", "copy", "attach k", "fits k", "state", "inner f g", "1", "-"):
+        for line in (
+            "", " ", "foo", "foo a", "made f g", "claim", "claim k", "claim k is f", "kept f g", "on c 1 1", "Undo",
+            "undo undo", "lines", "copy", "attach k", "fits k", "state", "inner f g", "1", "-",
+        ):
             self.judge(line, False, False)
 
     def test_any_value(self):
-        for value in (None, True, False, 0, 1, Ratio(1), b"undo", b"letter t", ["letter t"], ("letter t",), ["letter", "t"], {}, LETTER, STRANGE, object(), str):
+        for value in (
+            None, True, False, 0, 1, Ratio(1), b"undo", b"letter t", ["letter t"], ("letter t",), ["letter", "t"], {},
+            LETTER, STRANGE, object(), str,
+        ):
             self.judge(value, False, False)
             self.assertIs(is_name(value), False)
 

@@ -2,7 +2,8 @@
 
 import unittest
 
-from helpers import EIGHTH, LETTER, NINTH, NO_FRACTIONS, NO_PLACES, STRANGE, check_call, check_raises, check_refusals, draw_fraction, draw_place
+from helpers import EIGHTH, LETTER, NINTH, NO_FRACTIONS, NO_PLACES, STRANGE, check_call, check_raises, check_refusals
+from helpers import draw_fraction, draw_place
 from helpers import drawing
 from innerfractions.classes import same_class
 from innerfractions.curves import Curve
@@ -67,7 +68,10 @@ class Plain(unittest.TestCase):
 
     def test_plain_ones_stay(self):
         # The one of a curve that is passed once, told, is t.
-        for curve in (KNOT, Curve(SQUARE, CUBE), Curve(LETTER + 1, EIGHTH), Curve(Fraction([1], [0, 1]), LETTER), Curve(LETTER, Fraction([3]))):
+        for curve in (
+            KNOT, Curve(SQUARE, CUBE), Curve(LETTER + 1, EIGHTH), Curve(Fraction([1], [0, 1]), LETTER),
+            Curve(LETTER, Fraction([3])),
+        ):
             self.assertEqual(self.check(curve, 1), curve)
 
     def test_known(self):
@@ -82,7 +86,8 @@ class Told(unittest.TestCase):
     def test_parts(self):
         draw = drawing(333)
         for _ in range(40):
-            first, second = [draw.choice(NUMBERS) if draw.random() < 0.3 else draw_fraction(draw, draw.randint(1, 8), 5) for _ in range(2)]
+            choices = NUMBERS + [draw_fraction(draw, draw.randint(1, 8), 5) for _ in range(8)]
+            first, second = draw.choice(choices), draw.choice(choices)
             if not first.is_full and not second.is_full:
                 check_raises(self, NumbersAlone, {}, Curve, first, second)
                 continue
@@ -105,13 +110,19 @@ class Told(unittest.TestCase):
         self.assertEqual(Curve(WAVE, LETTER).point(0), ("beyond", Ratio(0)))
 
     def test_repr(self):
-        self.assertEqual(repr(Curve(LETTER, Fraction([]))), "Curve(Fraction([Ratio(0, 1), Ratio(1, 1)], [Ratio(1, 1)]), Fraction([], [Ratio(1, 1)]))")
+        self.assertEqual(
+            repr(Curve(LETTER, Fraction([]))),
+            "Curve(Fraction([Ratio(0, 1), Ratio(1, 1)], [Ratio(1, 1)]), Fraction([], [Ratio(1, 1)]))",
+        )
 
     def test_equal(self):
         curve = Curve(SQUARE, CUBE)
         self.assertTrue(curve == Curve(Fraction([0, 0, 2], [2]), CUBE))
         self.assertFalse(curve != Curve(SQUARE, CUBE))
-        for other in (Curve(CUBE, SQUARE), Curve(SQUARE, SQUARE), Curve(CUBE, CUBE), KNOT, Curve(put(SQUARE, LETTER + 1), put(CUBE, LETTER + 1))):
+        for other in (
+            Curve(CUBE, SQUARE), Curve(SQUARE, SQUARE), Curve(CUBE, CUBE), KNOT,
+            Curve(put(SQUARE, LETTER + 1), put(CUBE, LETTER + 1)),
+        ):
             self.assertFalse(curve == other)
             self.assertTrue(curve != other)
         # The same points, told otherwise, are another Curve.

@@ -14,9 +14,14 @@ TWO, THREE = Fraction([0, 0, 1]), Fraction([0, 0, 0, 1])
 STEPS = [(1, 0, [[0], [1]], [[0, 1]])]
 # Commands that fail at a desk with the known things, with their errors.
 FAILING = [
-    ("foo", errors.InvalidCommand, {"value": "foo"}), (None, errors.InvalidCommand, {"value": None}), (17, errors.InvalidCommand, {"value": 17}), ("letter two", errors.NameTaken, {"name": "two"}), ("drop x", errors.UnknownName, {"value": "x"}),
-    ("state x", errors.UnknownLabel, {"value": "x"}), ("fraction x 1 -", errors.NoughtBottom, {}), ("claim x whole t", errors.InvalidClaim, {"value": ("whole", letter())}), ("undone x two", errors.InvalidMove, {"value": TWO}),
-    ("joined x two num", errors.NotFull, {}), ("outer x two three", errors.NotInner, {}), ("moves num", errors.NotFull, {}), ("power x led 99", errors.InvalidPower, {"value": 99}),
+    ("foo", errors.InvalidCommand, {"value": "foo"}), (None, errors.InvalidCommand, {"value": None}),
+    (17, errors.InvalidCommand, {"value": 17}), ("letter two", errors.NameTaken, {"name": "two"}),
+    ("drop x", errors.UnknownName, {"value": "x"}),
+    ("state x", errors.UnknownLabel, {"value": "x"}), ("fraction x 1 -", errors.NoughtBottom, {}),
+    ("claim x whole t", errors.InvalidClaim, {"value": ("whole", letter())}),
+    ("undone x two", errors.InvalidMove, {"value": TWO}),
+    ("joined x two num", errors.NotFull, {}), ("outer x two three", errors.NotInner, {}),
+    ("moves num", errors.NotFull, {}), ("power x led 99", errors.InvalidPower, {"value": 99}),
 ]
 
 
@@ -27,7 +32,13 @@ class Several(unittest.TestCase):
         answers = desk.do_all(*lines)
         self.assertIs(type(answers), list)
         self.assertEqual(answers, [other.do(line) for line in lines])
-        self.assertEqual(answers, ["-", "k true", "knot led num t three two wave x", "-", "top x 0,0,1", "k true", "top x 0,0,1", "0,0,1 1", "true"])
+        self.assertEqual(
+            answers,
+            [
+                "-", "k true", "knot led num t three two wave x", "-", "top x 0,0,1", "k true", "top x 0,0,1",
+                "0,0,1 1", "true",
+            ],
+        )
         self.assertEqual(picture(desk), picture(other))
         before = picture(desk)
         self.assertEqual(desk.do_all(), [])
@@ -38,7 +49,9 @@ class Several(unittest.TestCase):
         good = ["letter x1", "claim k1 whole two", "undo", "names", "drop wave"]
         for line, wanted, attributes in FAILING:
             for place in range(len(good) + 1):
-                self.check_failing(desk_with("letter z", "undo"), good[:place] + [line] + good[place:], place, wanted, attributes)
+                self.check_failing(
+                    desk_with("letter z", "undo"), good[:place] + [line] + good[place:], place, wanted, attributes,
+                )
         for place in (0, 1, 2):
             self.check_failing(desk_with(), good[:place] + ["redo"] + good[place:], place, errors.NothingToRedo, {})
         self.check_failing(Desk(), ["letter t", "undo", "undo", "letter t"], 2, errors.NothingToUndo, {})
@@ -60,7 +73,10 @@ class Several(unittest.TestCase):
         desk = desk_with("letter x", "undo", "claim k made t two three")
         desk.attach("k", STEPS)
         before = picture(desk)
-        for lines in (["letter y", "drop two", "states"], ["undo", "undo", "names"], ["forget k"], ["undo", "redo"], ["undo", "letter q"], ["names"]):
+        for lines in (
+            ["letter y", "drop two", "states"], ["undo", "undo", "names"], ["forget k"], ["undo", "redo"],
+            ["undo", "letter q"], ["names"],
+        ):
             wanted = desk.copy().do_all(*lines)
             answers = desk.attempt(*lines)
             self.assertIs(type(answers), list)
@@ -70,7 +86,9 @@ class Several(unittest.TestCase):
 
 class Lines(unittest.TestCase):
     def test_again(self):
-        desk = desk_with("claim k made t two three", "drop three", "undo", "top two 1,1", "curve c two wave", "forget k")
+        desk = desk_with(
+            "claim k made t two three", "drop three", "undo", "top two 1,1", "curve c two wave", "forget k",
+        )
         lines = desk.lines()
         self.assertIs(type(lines), list)
         for given in (lines, tuple(lines)):
@@ -87,18 +105,27 @@ class Lines(unittest.TestCase):
             self.assertEqual(shape(failure(Desk.again, value)), (errors.InvalidLines, {"position": None}))
 
     def test_no_deeds(self):
-        for bad in (None, True, 1, b"letter x", "", "foo", "undo", "redo", "names", "states", "show t", "letter", "letter x ", ["letter x"], LETTER, STRANGE):
+        for bad in (
+            None, True, 1, b"letter x", "", "foo", "undo", "redo", "names", "states", "show t", "letter", "letter x ",
+            ["letter x"], LETTER, STRANGE,
+        ):
             for place in (0, 1, 3):
                 lines = ["letter a", "letter b", "letter c"]
                 lines.insert(place, bad)
                 self.assertEqual(shape(failure(Desk.again, lines)), (errors.InvalidLines, {"position": place}))
                 # Before what fails, and the first one that is no deed.
-                self.assertEqual(shape(failure(Desk.again, ["letter a", "letter a"] + lines + ["names"])), (errors.InvalidLines, {"position": place + 2}))
+                self.assertEqual(
+                    shape(failure(Desk.again, ["letter a", "letter a"] + lines + ["names"])),
+                    (errors.InvalidLines, {"position": place + 2}),
+                )
 
     def test_what_fails(self):
         for lines, position, cause in [
-            (["letter a", "letter a"], 1, errors.NameTaken), (["drop a"], 0, errors.UnknownName), (["letter a", "sum b a a", "over c a d"], 2, errors.UnknownName), (["letter a", "fraction b 1 -"], 1, errors.NoughtBottom),
-            (["forget k"], 0, errors.UnknownLabel), (["letter a", "claim k whole a"], 1, errors.InvalidClaim), ([f"letter a{number}" for number in range(13)], 12, errors.TooMany),
+            (["letter a", "letter a"], 1, errors.NameTaken), (["drop a"], 0, errors.UnknownName),
+            (["letter a", "sum b a a", "over c a d"], 2, errors.UnknownName),
+            (["letter a", "fraction b 1 -"], 1, errors.NoughtBottom),
+            (["forget k"], 0, errors.UnknownLabel), (["letter a", "claim k whole a"], 1, errors.InvalidClaim),
+            ([f"letter a{number}" for number in range(13)], 12, errors.TooMany),
         ]:
             error = failure(Desk.again, lines)
             self.assertEqual(shape(error), (errors.CommandFailed, {"position": position}))
@@ -144,7 +171,10 @@ class Access(unittest.TestCase):
         self.assertEqual(desk["two"], TWO)
         self.assertIs(type(desk["knot"]), Curve)
         self.assertEqual(desk["knot"], Curve(TWO, THREE))
-        for value in (None, True, 0, "", "x", "k", "Two", "two ", b"two", ["two"], ("two",), {}, {"two": 1}, LETTER, Ratio(1), STRANGE, object(), slice(0, 1), -1):
+        for value in (
+            None, True, 0, "", "x", "k", "Two", "two ", b"two", ["two"], ("two",), {}, {"two": 1}, LETTER, Ratio(1),
+            STRANGE, object(), slice(0, 1), -1,
+        ):
             self.assertIs(value in desk, False)
             error = failure(desk.__getitem__, value)
             self.assertIs(error.__class__, errors.UnknownName)

@@ -4,8 +4,10 @@ import unittest
 from fractions import Fraction as Exact
 
 import plain
-from drawn_curves import CUSP, FIFTH, FOURTH, KNOT, KNOWN, LEVEL, LINE, NO_CURVES, NO_POINTS, RING, SQUARE, TWICE, UPRIGHT, WAVE, draw_curve, moved
-from helpers import LETTER, STRANGE, check_call, check_raises, check_refusals, draw_fraction, draw_number, drawing, exact, ratios
+from drawn_curves import CUSP, FIFTH, FOURTH, KNOT, KNOWN, LEVEL, LINE, NO_CURVES, NO_POINTS, RING, SQUARE, TWICE
+from drawn_curves import UPRIGHT, WAVE, draw_curve, moved
+from helpers import LETTER, STRANGE, check_call, check_raises, check_refusals, draw_fraction, draw_number, drawing
+from helpers import exact, ratios
 from innerfractions.curves import Curve
 from innerfractions.equations import equation, is_letter_back, is_on, letter_back, places_at
 from innerfractions.errors import InvalidCurve, InvalidPoint, TooMany
@@ -47,15 +49,19 @@ class Equations(unittest.TestCase):
 
     def test_known(self):
         for curve, wanted in [
-            (LINE, [[-1, 1], [-2, 0]]), (CUSP, [[0, 0, -1], [0] * 3, [0] * 3, [1, 0, 0]]), (RING, [[-1, 0, 1], [0] * 3, [1, 0, 0]]),
+            (LINE, [[-1, 1], [-2, 0]]), (CUSP, [[0, 0, -1], [0] * 3, [0] * 3, [1, 0, 0]]),
+            (RING, [[-1, 0, 1], [0] * 3, [1, 0, 0]]),
             (KNOT, [[0, 0, -1], [0] * 3, [1, 0, 0], [1, 0, 0]]), (UPRIGHT, [[Ratio(-2, 3)], [1]]), (LEVEL, [[0, 1]]),
-            (Curve(LETTER, Fraction([4])), [[-4, 1]]), (Curve(Fraction([-1]), WAVE), [[1], [1]]), (TWICE, [[-2, 0, -1], [1, 0, 0]]),
+            (Curve(LETTER, Fraction([4])), [[-4, 1]]), (Curve(Fraction([-1]), WAVE), [[1], [1]]),
+            (TWICE, [[-2, 0, -1], [1, 0, 0]]),
             (Curve(LETTER, Fraction([1], [0, 1])), [[-1, 0], [0, 1]]),
         ]:
             grid = self.check(curve)
             flat = [exact(number) for row in wanted for number in row]
             head = [number for number in flat if number][-1]
-            self.assertEqual([exact(number) for row in grid for number in row], [number / head for number in flat], curve)
+            self.assertEqual(
+                [exact(number) for row in grid for number in row], [number / head for number in flat], curve,
+            )
 
     def test_drawn(self):
         draw = drawing(341)
@@ -79,7 +85,11 @@ class Equations(unittest.TestCase):
     def test_great_numbers(self):
         draw = drawing(343)
         for degree in (1, 2, 4):
-            parts = [[Ratio(draw.randint(-999999, 999999), draw.randint(1, 999999)) for _ in range(degree + 1)] for _ in range(4)]
+            parts = [
+                [
+                    Ratio(draw.randint(-999999, 999999), draw.randint(1, 999999)) for _ in range(degree + 1)
+                ] for _ in range(4)
+            ]
             self.check(Curve(Fraction(parts[0], parts[1]), Fraction(parts[2], parts[3])))
 
 
@@ -110,7 +120,9 @@ class Points(unittest.TestCase):
 
     def test_at_places(self):
         draw = drawing(344)
-        for curve in KNOWN + [FOURTH, FIFTH] + [draw_curve(draw, draw.choice([2, 4, 8]), 1) for _ in range(15)] + [draw_curve(draw, 4, 2) for _ in range(6)]:
+        for curve in KNOWN + [FOURTH, FIFTH] + [
+            draw_curve(draw, draw.choice([2, 4, 8]), 1) for _ in range(15)
+        ] + [draw_curve(draw, 4, 2) for _ in range(6)]:
             for place in ("beyond", 0, 1, -1, Ratio(1, 2), draw_number(draw)):
                 point = curve.point(place)
                 if "beyond" not in point:
@@ -141,7 +153,8 @@ class Points(unittest.TestCase):
 
     def test_beside(self):
         for curve, point in [
-            (RING, (1, 1)), (KNOT, (0, 1)), (CUSP, (1, 2)), (UPRIGHT, (Ratio(2, 4), 5)), (UPRIGHT, (0, 0)), (LEVEL, (0, 1)), (LINE, (0, 0)), (TWICE, (0, 0)),
+            (RING, (1, 1)), (KNOT, (0, 1)), (CUSP, (1, 2)), (UPRIGHT, (Ratio(2, 4), 5)), (UPRIGHT, (0, 0)),
+            (LEVEL, (0, 1)), (LINE, (0, 0)), (TWICE, (0, 0)),
             (Curve(LETTER, Fraction([4])), (4, 5)), (Curve(Fraction([-1]), LETTER), (1, 0)),
         ]:
             self.assertIsNone(self.check(curve, point))
@@ -198,7 +211,7 @@ class Back(unittest.TestCase):
         top, bottom = made
         plus = [[number + (1 if at == by == 0 else 0) for by, number in enumerate(row)] for at, row in enumerate(top)]
         yield tuple(tuple(row) for row in top), tuple(tuple(row) for row in bottom)
-        yield [[number * Ratio(3, 7) for number in row] for row in top], [[number * Ratio(3, 7) for number in row] for row in bottom]
+        yield tuple([[number * Ratio(3, 7) for number in row] for row in grid] for grid in made)
         yield bottom, top
         yield plus, bottom
         yield top, plus
@@ -228,16 +241,21 @@ class Back(unittest.TestCase):
         curve = moved(curve, inner)
         made = letter_back(curve)
         self.assertIs(is_letter_back(curve, made), True)
-        self.assertTrue(all(abs(number.top) < 10 ** 2000 and number.bottom < 10 ** 2000 for grid in made for row in grid for number in row))
+        for number in [number for grid in made for row in grid for number in row]:
+            self.assertTrue(abs(number.top) < 10 ** 2000 and number.bottom < 10 ** 2000)
 
     def test_judged(self):
         for value, wanted in [
-            (([[0, 1]], [[0], [1]]), True), ((([0, 1],), ((0,), (1,))), True), (([[0, Ratio(2, 3)]], ([0], [Ratio(2, 3)])), True), (([[0, 1]], [[1]]), False),
+            (([[0, 1]], [[0], [1]]), True), ((([0, 1],), ((0,), (1,))), True),
+            (([[0, Ratio(2, 3)]], ([0], [Ratio(2, 3)])), True), (([[0, 1]], [[1]]), False),
             # The equation, added anywhere, changes nothing; a bottom that comes to 0 is none.
-            (([[0, 1, -1], [0] * 3, [1, 0, 0], [1, 0, 0]], [[0], [1]]), True), (([[0, 1]], [[0, 0, -1], [0] * 3, [1, 0, 0], [1, 0, 0]]), False),
-            (([[0, 0, -1], [0] * 3, [1, 0, 0], [1, 0, 0]], [[0, 0, -1], [0] * 3, [1, 0, 0], [1, 0, 0]]), False), (([[0]], [[0]]), False), (([[0]], [[1]]), False),
+            (([[0, 1, -1], [0] * 3, [1, 0, 0], [1, 0, 0]], [[0], [1]]), True),
+            (([[0, 1]], [[0, 0, -1], [0] * 3, [1, 0, 0], [1, 0, 0]]), False),
+            (([[0, 0, -1], [0] * 3, [1, 0, 0], [1, 0, 0]], [[0, 0, -1], [0] * 3, [1, 0, 0], [1, 0, 0]]), False),
+            (([[0]], [[0]]), False), (([[0]], [[1]]), False),
             # x (x + 1) divided by y, which is x t.
-            (([[0], [1], [1]], [[0, 1]]), True), (([[0] * 9] * 8 + [[0] * 8 + [1]], [[0] * 9] * 8 + [[0] * 8 + [1]]), False),
+            (([[0], [1], [1]], [[0, 1]]), True),
+            (([[0] * 9] * 8 + [[0] * 8 + [1]], [[0] * 9] * 8 + [[0] * 8 + [1]]), False),
         ]:
             self.judge(KNOT, value, wanted)
         self.judge(UPRIGHT, ([[0, 1]], [[1]]), True)
@@ -248,8 +266,10 @@ class Back(unittest.TestCase):
     def test_other_kinds(self):
         good = ([[0, 1]], [[0], [1]])
         for value in (
-            None, True, 0, "grid", b"", {}, [], (), list(good), (good[0],), good + ([[1]],), (good[0], None), (None, good[1]), (good,), ([], [[1]]), ([[]], [[1]]),
-            ([[0, 1]], [[0], [1, 2]]), ([[0, 1]], [0, 1]), ([[0, True]], [[0], [1]]), ([[0, "1"]], [[0], [1]]), ([[0, 1]], "01"), ([[0] * 10], [[1]]), ([[0]] * 10, [[1]]),
+            None, True, 0, "grid", b"", {}, [], (), list(good), (good[0],), good + ([[1]],), (good[0], None),
+            (None, good[1]), (good,), ([], [[1]]), ([[]], [[1]]),
+            ([[0, 1]], [[0], [1, 2]]), ([[0, 1]], [0, 1]), ([[0, True]], [[0], [1]]), ([[0, "1"]], [[0], [1]]),
+            ([[0, 1]], "01"), ([[0] * 10], [[1]]), ([[0]] * 10, [[1]]),
             STRANGE, object(), (STRANGE, STRANGE), LETTER, (LETTER, LETTER), KNOT, {0: good[0], 1: good[1]},
         ):
             self.judge(KNOT, value, False)
@@ -266,7 +286,10 @@ class Refused(unittest.TestCase):
 
     def test_bound(self):
         for function, more in [(equation, []), (letter_back, []), (is_letter_back, [None])]:
-            for curve in (FIFTH, Curve(SQUARE, FIFTH.first()), Curve(LETTER, Fraction([1, 1], [0] * 8 + [1])), Curve(Fraction([0] * 8 + [1]), Fraction([1, 1]))):
+            for curve in (
+                FIFTH, Curve(SQUARE, FIFTH.first()), Curve(LETTER, Fraction([1, 1], [0] * 8 + [1])),
+                Curve(Fraction([0] * 8 + [1]), Fraction([1, 1])),
+            ):
                 check_raises(self, TooMany, BOUND, function, curve, *more)
             # The plain telling counts.
             function(FOURTH, *more)

@@ -7,8 +7,10 @@ import unittest
 FOLDER = os.path.join(os.path.dirname(os.path.abspath(__file__)), "examples")
 # Names stand for what they were in the last example that gave them: so one dict serves all.
 SEQUENCE = [
-    "ratios", "polys", "parts", "solved", "primes", "factors", "dividers", "fractions", "places", "moves", "forms", "twins",
-    "turning", "outer", "classes", "halves", "ones", "made", "kept", "lattices", "own", "groups", "curves", "equations", "doubles", "texts", "readers", "claims", "commands", "desk",
+    "ratios", "polys", "parts", "solved", "primes", "factors", "dividers", "fractions", "places", "moves", "forms",
+    "twins",
+    "turning", "outer", "classes", "halves", "ones", "made", "kept", "lattices", "own", "groups", "curves", "equations",
+    "doubles", "texts", "readers", "claims", "commands", "desk",
 ]
 
 

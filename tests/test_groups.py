@@ -17,8 +17,10 @@ from innerfractions.ratios import Ratio
 from moving import ENDLESS, FOURTH, GROWING, OTHER_SIGN, OVER, SIXTH, THIRD, closed, led, left_by
 
 NO_MOVE_LISTS = [
-    None, True, "t", b"t", LETTER, {}, {0: LETTER}, [], (), [LETTER] * 13, (LETTER,) * 13, [None], [LETTER, None], [LETTER, 1], [[LETTER]],
-    [LETTER, Fraction([3])], [Fraction([])], [Fraction([0, 0, 1]), LETTER], (LETTER, Ratio(1)), STRANGE, object(), Fraction,
+    None, True, "t", b"t", LETTER, {}, {0: LETTER}, [], (), [LETTER] * 13, (LETTER,) * 13, [None], [LETTER, None],
+    [LETTER, 1], [[LETTER]],
+    [LETTER, Fraction([3])], [Fraction([])], [Fraction([0, 0, 1]), LETTER], (LETTER, Ratio(1)), STRANGE, object(),
+    Fraction,
 ] + [[LETTER, value] for value in NO_MOVES]
 
 
@@ -95,9 +97,12 @@ class Groups(unittest.TestCase):
 
     def test_known(self):
         for moves, wanted in [
-            ([letter()], True), ([letter(), OVER], True), ([letter(), letter()], False), ([OVER], False), ([letter(), THIRD], False),
-            ([letter(), OTHER_SIGN, OVER], False), ([letter(), letter() + 1], False), ([letter() + 1], False), ([OVER, OTHER_SIGN], False),
-            ([letter(), FOURTH, undone(FOURTH)], False), ([letter(), put(FOURTH, FOURTH)], True), ([letter(), put(SIXTH, SIXTH)], False),
+            ([letter()], True), ([letter(), OVER], True), ([letter(), letter()], False), ([OVER], False),
+            ([letter(), THIRD], False),
+            ([letter(), OTHER_SIGN, OVER], False), ([letter(), letter() + 1], False), ([letter() + 1], False),
+            ([OVER, OTHER_SIGN], False),
+            ([letter(), FOURTH, undone(FOURTH)], False), ([letter(), put(FOURTH, FOURTH)], True),
+            ([letter(), put(SIXTH, SIXTH)], False),
         ]:
             self.check(moves, wanted)
 
@@ -135,7 +140,9 @@ class Ones(unittest.TestCase):
     def test_within_one_another(self):
         # [77]: of a round fraction the classes inner to it are the ones of the groups within its own moves.
         draw = drawing(315)
-        for moves, many in [([FOURTH], 4), ([OTHER_SIGN, OVER], 4), ([THIRD, OVER], 6), ([SIXTH], 6), ([THIRD], 3), ([OVER], 2)]:
+        for moves, many in [
+            ([FOURTH], 4), ([OTHER_SIGN, OVER], 4), ([THIRD, OVER], 6), ([SIXTH], 6), ([THIRD], 3), ([OVER], 2),
+        ]:
             by = draw_fraction(draw, 1, 4) if many < 4 else letter()
             group = [led(move, by) for move in closed(moves)]
             fraction = left_by(group)

@@ -3,7 +3,8 @@
 import unittest
 
 import plain
-from helpers import EIGHTH, LETTER, NINTH, NO_FRACTIONS, check_call, check_raises, check_refusals, draw_fraction, drawing
+from helpers import EIGHTH, LETTER, NINTH, NO_FRACTIONS, check_call, check_raises, check_refusals, draw_fraction
+from helpers import drawing
 from innerfractions.classes import class_of
 from innerfractions.errors import InvalidFraction, NotFull, NotInner, TooMany
 from innerfractions.fractions import Fraction, letter, put
@@ -55,7 +56,10 @@ class Joined(unittest.TestCase):
                 self.check(power(many), power(other), power(wanted))
 
     def test_t_alone_in_common(self):
-        for fraction, other in [(power(2), power(2) + LETTER), (WAVE, power(2)), (power(3), put(power(3), LETTER + 1)), (letter(), EIGHTH), (OVER, power(6))]:
+        for fraction, other in [
+            (power(2), power(2) + LETTER), (WAVE, power(2)), (power(3), put(power(3), LETTER + 1)), (letter(), EIGHTH),
+            (OVER, power(6)),
+        ]:
             self.check(fraction, other, letter())
 
     def test_just_at_the_bound(self):
@@ -65,7 +69,10 @@ class Joined(unittest.TestCase):
 
 class Met(unittest.TestCase):
     def check(self, fraction, inner, other, wanted=None):
-        for given in ({"fraction": fraction, "inner": inner, "other": other}, {"fraction": fraction, "inner": other, "other": inner}):
+        for given in (
+            {"fraction": fraction, "inner": inner, "other": other},
+            {"fraction": fraction, "inner": other, "other": inner},
+        ):
             one = check_call(self, met, given)
             self.assertEqual(one, class_of(one))
             above = [each for each in all_inner(fraction) if is_inner(each, inner) and is_inner(each, other)]
@@ -114,8 +121,10 @@ class Met(unittest.TestCase):
 
     def test_not_inner(self):
         for fraction, inner, other in [
-            (power(6), power(4), power(2)), (power(6), power(2), power(4)), (power(6), WAVE, WAVE), (power(2), power(6), power(2)), (letter(), power(2), letter()),
-            (power(5), power(2), power(3)), (power(8), power(3), power(2)), (power(8), power(2), power(24)), (power(24), WAVE, letter()), (power(6), power(8), letter()),
+            (power(6), power(4), power(2)), (power(6), power(2), power(4)), (power(6), WAVE, WAVE),
+            (power(2), power(6), power(2)), (letter(), power(2), letter()),
+            (power(5), power(2), power(3)), (power(8), power(3), power(2)), (power(8), power(2), power(24)),
+            (power(24), WAVE, letter()), (power(6), power(8), letter()),
         ]:
             check_raises(self, NotInner, {}, met, fraction, inner, other)
             check_raises(self, NotInner, {}, met, other=other, inner=inner, fraction=fraction)
@@ -167,7 +176,9 @@ class Chains(unittest.TestCase):
         self.assertEqual(self.check(fraction), [[letter(), class_of(fraction)]])
 
     def test_round_ones(self):
-        for moves, many in [([Fraction([1, 1], [1, -1])], 1), ([OTHER_SIGN, OVER], 3), ([THIRD, OVER], 4), ([SIXTH], 2)]:
+        for moves, many in [
+            ([Fraction([1, 1], [1, -1])], 1), ([OTHER_SIGN, OVER], 3), ([THIRD, OVER], 4), ([SIXTH], 2),
+        ]:
             self.check(left_by(closed(moves)), many)
 
     def test_put_together(self):
@@ -186,7 +197,9 @@ class Refused(unittest.TestCase):
     def test_kinds(self):
         fraction, inner, other = [(name, InvalidFraction, NO_FRACTIONS) for name in ("fraction", "inner", "other")]
         check_refusals(self, joined, [fraction, other], {"fraction": EIGHTH, "other": EIGHTH})
-        check_refusals(self, met, [fraction, inner, other], {"fraction": power(6), "inner": power(2), "other": power(3)})
+        check_refusals(
+            self, met, [fraction, inner, other], {"fraction": power(6), "inner": power(2), "other": power(3)},
+        )
         check_refusals(self, chains, [fraction], {"fraction": power(6)})
 
     def test_full(self):
@@ -194,7 +207,10 @@ class Refused(unittest.TestCase):
             for other in (number, power(2), power(24)):
                 check_raises(self, NotFull, {}, joined, number, other)
                 check_raises(self, NotFull, {}, joined, other, number)
-                for given in [(number, other, other), (other, number, other), (other, other, number), (power(7), power(2), number)]:
+                for given in [
+                    (number, other, other), (other, number, other), (other, other, number),
+                    (power(7), power(2), number),
+                ]:
                     check_raises(self, NotFull, {}, met, *given)
             check_raises(self, NotFull, {}, chains, number)
             check_raises(self, InvalidFraction, {"value": None}, met, number, number, None)

@@ -3,7 +3,8 @@
 import unittest
 
 import plain
-from helpers import EIGHTH, LETTER, NINTH, NO_FRACTIONS, NO_MOVES, check_call, check_raises, check_refusals, draw_fraction, drawing
+from helpers import EIGHTH, LETTER, NINTH, NO_FRACTIONS, NO_MOVES, check_call, check_raises, check_refusals
+from helpers import draw_fraction, drawing
 from innerfractions.errors import InvalidFraction, NotFull, TooMany
 from innerfractions.fractions import Fraction, letter, put
 from innerfractions.moves import undone
@@ -32,8 +33,13 @@ class Checks(unittest.TestCase):
             self.assertEqual(put(fraction, move), fraction)
             self.assertIs(check_call(self, is_own_move, {"fraction": fraction, "value": move}), True)
             self.assertTrue(all(put(move, other) in moves for other in moves))
-            self.assertIs(is_own_move(fraction, put(move, Fraction([1, 3], [0, 7]))), put(move, Fraction([1, 3], [0, 7])) in moves)
-        self.assertEqual(moves, sorted(moves_by_places(fraction, fraction) if wanted is None else wanted, key=plain.standing))
+            self.assertIs(
+                is_own_move(fraction, put(move, Fraction([1, 3], [0, 7]))),
+                put(move, Fraction([1, 3], [0, 7])) in moves,
+            )
+        self.assertEqual(
+            moves, sorted(moves_by_places(fraction, fraction) if wanted is None else wanted, key=plain.standing),
+        )
         self.assertIs(check_call(self, is_round, {"fraction": fraction}), len(moves) == fraction.degree)
         return moves
 
@@ -63,7 +69,9 @@ class Own(Checks):
                     self.check(put(lead, fraction), changed)
                     # With an outer one the moves stay.
                     if many <= 4:
-                        self.assertTrue(all(move in self.check(put(Fraction([3, 1, 2], [1, 5]), fraction)) for move in changed))
+                        self.assertTrue(
+                            all(move in self.check(put(Fraction([3, 1, 2], [1, 5]), fraction)) for move in changed)
+                        )
                 seen.add(many)
         self.assertEqual(seen, {1, 2, 3, 4, 6, 8})
 
@@ -98,7 +106,10 @@ class Own(Checks):
         # The worths at 0, 1, 2 and 3 are taken twice, or beyond, or taken beyond as well.
         for number in range(4):
             shifted = Fraction([-number, 1])
-            for fraction in (put(power(4), shifted), put(Fraction([1], [0, 0, 1]), shifted), put(Fraction([1, 0, 1], [0, 1]), shifted)):
+            for fraction in (
+                put(power(4), shifted), put(Fraction([1], [0, 0, 1]), shifted),
+                put(Fraction([1, 0, 1], [0, 1]), shifted),
+            ):
                 self.check(fraction)
         hard = Fraction([1])
         for number in range(4):
@@ -108,16 +119,22 @@ class Own(Checks):
 
     def test_great_numbers(self):
         by = Fraction([Ratio(999999, 7), Ratio(-123456, 654321)], [Ratio(1, 999983), 3])
-        self.check(put(left_by(closed([THIRD, OVER])), by), [put(put(undone(by), move), by) for move in closed([THIRD, OVER])])
+        self.check(
+            put(left_by(closed([THIRD, OVER])), by), [put(put(undone(by), move), by) for move in closed([THIRD, OVER])],
+        )
 
 
 class Judged(unittest.TestCase):
     def test_any_value(self):
         hill = Fraction([1, 0, 1], [0, 1])
-        for value in NO_MOVES + [None, True, 1, Ratio(1), "t", [letter()], (OVER,), [0, 1], power(2), Fraction([3]), hill]:
+        for value in NO_MOVES + [
+            None, True, 1, Ratio(1), "t", [letter()], (OVER,), [0, 1], power(2), Fraction([3]), hill,
+        ]:
             self.assertIs(is_own_move(hill, value), False)
             self.assertIs(is_own_move(value=value, fraction=letter()), False)
-        for move, wanted in [(letter(), True), (OVER, True), (OTHER_SIGN, False), (THIRD, False), (Fraction([1, 1]), False)]:
+        for move, wanted in [
+            (letter(), True), (OVER, True), (OTHER_SIGN, False), (THIRD, False), (Fraction([1, 1]), False),
+        ]:
             self.assertIs(is_own_move(hill, move), wanted)
 
 
@@ -150,7 +167,10 @@ class Inside(unittest.TestCase):
     def test_no_move(self):
         draw = drawing(305)
         hill = Fraction([1, 0, 1], [0, 1])
-        for fraction, other in [(hill, power(2)), (power(2), power(2) * 3), (power(3), power(3) + 1), (power(2), hill), (power(4), put(power(2), power(2) + 1))]:
+        for fraction, other in [
+            (hill, power(2)), (power(2), power(2) * 3), (power(3), power(3) + 1), (power(2), hill),
+            (power(4), put(power(2), power(2) + 1)),
+        ]:
             self.check(fraction, other, False)
         self.check(power(3), power(3) * 8, True)
         self.check(power(2), power(2) * 3 * 12, True)
@@ -162,7 +182,10 @@ class Inside(unittest.TestCase):
             self.check(fraction, other, bool(moves_by_places(fraction, other)))
 
     def test_unlike_degrees(self):
-        for fraction, other in [(power(2), power(3)), (letter(), power(2)), (power(2), letter()), (power(8), power(7)), (power(4), power(2))]:
+        for fraction, other in [
+            (power(2), power(3)), (letter(), power(2)), (power(2), letter()), (power(8), power(7)),
+            (power(4), power(2)),
+        ]:
             self.check(fraction, other, False)
 
     def test_moves(self):
@@ -178,7 +201,10 @@ class Refused(unittest.TestCase):
         for function in (own_moves, is_round):
             check_refusals(self, function, refused, {"fraction": EIGHTH})
         check_refusals(self, is_own_move, refused, {"fraction": EIGHTH, "value": None})
-        check_refusals(self, inside_move, refused + [("other", InvalidFraction, NO_FRACTIONS)], {"fraction": EIGHTH, "other": LETTER})
+        check_refusals(
+            self, inside_move, refused + [("other", InvalidFraction, NO_FRACTIONS)],
+            {"fraction": EIGHTH, "other": LETTER},
+        )
 
     def test_state(self):
         for function, more in [(own_moves, []), (is_round, []), (is_own_move, [None]), (is_own_move, [letter()])]:

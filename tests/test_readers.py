@@ -76,12 +76,18 @@ class Readers(unittest.TestCase):
 
     def test_first_lines(self):
         for text in (
-            "\n", " \n", "places 1\n", "Place 1\n", "place\n", "place 1 2\n", "place  1\n", " place 1\n", "place 1 \n", "place 01\n", "place -0\n", "place +1\n", "place 1/1\n", "place 1/0\n",
-            "place 2/4\n", "place 0/3\n", "place 1/-2\n", "place -1/-2\n", "place 1/\n", "place /2\n", "place 1/02\n", "place 1/2/3\n", "place 1.5\n", "place Beyond\n", "place beyond 1\n",
-            "place 1e3\n", "place -\n", "place --1\n", "place 1,2\n", "place -3/1\n", "place 1_0\n", "poly 0\n", "poly 1 0\n", "poly 1 2/4\n", "poly 1 -0 1\n", "poly 00 1\n", "poly  1\n", "poly 1  2\n", "poly \n",
-            "poly 1 x\n", "poly beyond\n", "poly" + " 1" * 26 + "\n", "form\n", "form 0\n", "form 0 0\n", "form 2\n", "form 1 2\n", "form 1 2 0\n", "form -1\n", "form 0 -1 0\n", "form" + " 0" * 25 + " 1\n",
-            "form 1" + " 0" * 25 + "\n", "numbers\n", "numbers 1/1\n", "numbers 1 \n", "numbers" + " 1" * 41 + "\n", "numbers beyond\n", "top 0\n", "top 1 0\n", "top 2/4\n", "top" + " 1" * 26 + "\n", "top \n",
-            "bottom 1\n", "row 1\n", "over 1\n", "under 1\n", "step 0 0\n", "grid 1\n", "grid \n", " grid\n", "steps 0\n", "steps \n", "steps0\n", "fraction 1\n", "grids\n", "1\n", "beyond\n", "top1\n",
+            "\n", " \n", "places 1\n", "Place 1\n", "place\n", "place 1 2\n", "place  1\n", " place 1\n", "place 1 \n",
+            "place 01\n", "place -0\n", "place +1\n", "place 1/1\n", "place 1/0\n",
+            "place 2/4\n", "place 0/3\n", "place 1/-2\n", "place -1/-2\n", "place 1/\n", "place /2\n", "place 1/02\n",
+            "place 1/2/3\n", "place 1.5\n", "place Beyond\n", "place beyond 1\n",
+            "place 1e3\n", "place -\n", "place --1\n", "place 1,2\n", "place -3/1\n", "place 1_0\n", "poly 0\n",
+            "poly 1 0\n", "poly 1 2/4\n", "poly 1 -0 1\n", "poly 00 1\n", "poly  1\n", "poly 1  2\n", "poly \n",
+            "poly 1 x\n", "poly beyond\n", "poly" + " 1" * 26 + "\n", "form\n", "form 0\n", "form 0 0\n", "form 2\n",
+            "form 1 2\n", "form 1 2 0\n", "form -1\n", "form 0 -1 0\n", "form" + " 0" * 25 + " 1\n",
+            "form 1" + " 0" * 25 + "\n", "numbers\n", "numbers 1/1\n", "numbers 1 \n", "numbers" + " 1" * 41 + "\n",
+            "numbers beyond\n", "top 0\n", "top 1 0\n", "top 2/4\n", "top" + " 1" * 26 + "\n", "top \n",
+            "bottom 1\n", "row 1\n", "over 1\n", "under 1\n", "step 0 0\n", "grid 1\n", "grid \n", " grid\n",
+            "steps 0\n", "steps \n", "steps0\n", "fraction 1\n", "grids\n", "1\n", "beyond\n", "top1\n",
         ):
             self.check(text, 1)
             self.check(text + "place 1\n", 1)
@@ -90,13 +96,18 @@ class Readers(unittest.TestCase):
     def test_without_the_last_line_feed(self):
         for _, _, text in KNOWN:
             self.check(text[:-1], text.count("\n"))
-        for text, line in [("place", 1), ("grid", 1), ("steps", 1), ("top 1", 1), ("grid\nrow", 2), ("steps\nstep 0 0", 2), ("top 1\nbottom", 2), ("place 1\nx", 2), ("grid\nrow 1\n ", 3)]:
+        for text, line in [
+            ("place", 1), ("grid", 1), ("steps", 1), ("top 1", 1), ("grid\nrow", 2), ("steps\nstep 0 0", 2),
+            ("top 1\nbottom", 2), ("place 1\nx", 2), ("grid\nrow 1\n ", 3),
+        ]:
             self.check(text, line)
 
     def test_only_lines_lack(self):
         for text, line in [
-            ("", 1), ("grid\n", 2), ("steps\n", 2), ("top 1\n", 2), ("top\n", 2), ("steps\nstep 0 0\n", 3), ("steps\nstep 0 0\nover 1\n", 4), ("steps\nstep 0 0\nover 1\nover 1\n", 5),
-            ("steps\nstep 0 0\nover 1\nunder 1\nstep 0 0\n", 6), ("steps\nstep 0 0\nover 1\nunder 1\nstep 4 4\nover 1 2\n", 7),
+            ("", 1), ("grid\n", 2), ("steps\n", 2), ("top 1\n", 2), ("top\n", 2), ("steps\nstep 0 0\n", 3),
+            ("steps\nstep 0 0\nover 1\n", 4), ("steps\nstep 0 0\nover 1\nover 1\n", 5),
+            ("steps\nstep 0 0\nover 1\nunder 1\nstep 0 0\n", 6),
+            ("steps\nstep 0 0\nover 1\nunder 1\nstep 4 4\nover 1 2\n", 7),
         ]:
             self.check(text, line)
 
@@ -112,18 +123,28 @@ class Readers(unittest.TestCase):
 
     def test_fractions(self):
         for text, line in [
-            ("top 0 1\nbottom 0 1\n", 2), ("top 1 1\nbottom 1 1\n", 2), ("top -1 0 1\nbottom 1 1\n", 2), ("top 1\nbottom 2\n", 2), ("top 1\nbottom\n", 2), ("top 1\nbottom 0\n", 2), ("top 1\nbottom 1 0\n", 2),
-            ("top\nbottom 1 1\n", 2), ("top\nbottom 2\n", 2), ("top\nbottom 0 1\n", 2), ("top\nbottom 1\n", None), ("top 1\nbottom 1 1\n", None), ("top 1\nbottom" + " 1" * 26 + "\n", 2), ("top 1\nbottom" + " 1" * 25 + "\n", None),
-            ("top 1\ntop 1\n", 2), ("top 1\n\n", 2), ("top 1\nbottom 1 -1\n", 2), ("top 1\nbottom -1\n", 2), ("top 1\nbottom 1/2 1\n", None), ("top 1\nbottom 1/2\n", 2), ("top 1\nbottom  1\n", 2), ("top 1\nbottom 1\nbottom 1\n", 3),
-            ("top 1 0\nbottom 2\n", 1), ("top 1\n bottom 1\n", 2), ("top 0 2\nbottom 1 0 1\n", None), ("top 1\nbottom 1 1\n\n", 3),
+            ("top 0 1\nbottom 0 1\n", 2), ("top 1 1\nbottom 1 1\n", 2), ("top -1 0 1\nbottom 1 1\n", 2),
+            ("top 1\nbottom 2\n", 2), ("top 1\nbottom\n", 2), ("top 1\nbottom 0\n", 2), ("top 1\nbottom 1 0\n", 2),
+            ("top\nbottom 1 1\n", 2), ("top\nbottom 2\n", 2), ("top\nbottom 0 1\n", 2), ("top\nbottom 1\n", None),
+            ("top 1\nbottom 1 1\n", None), ("top 1\nbottom" + " 1" * 26 + "\n", 2),
+            ("top 1\nbottom" + " 1" * 25 + "\n", None),
+            ("top 1\ntop 1\n", 2), ("top 1\n\n", 2), ("top 1\nbottom 1 -1\n", 2), ("top 1\nbottom -1\n", 2),
+            ("top 1\nbottom 1/2 1\n", None), ("top 1\nbottom 1/2\n", 2), ("top 1\nbottom  1\n", 2),
+            ("top 1\nbottom 1\nbottom 1\n", 3),
+            ("top 1 0\nbottom 2\n", 1), ("top 1\n bottom 1\n", 2), ("top 0 2\nbottom 1 0 1\n", None),
+            ("top 1\nbottom 1 1\n\n", 3),
         ]:
             self.check(text, line)
 
     def test_grids(self):
         nine = "row 1 2\n" * 9
         for text, line in [
-            ("grid\nrow\n", 2), ("grid\nrow 1\nrow 1 2\n", 3), ("grid\nrow 1 2\nrow 1\n", 3), ("grid\n" + nine, None), ("grid\n" + nine + "row 1 2\n", 11), ("grid\nrow" + " 0" * 9 + "\n", None), ("grid\nrow" + " 0" * 10 + "\n", 2),
-            ("grid\nrow 1\n\nrow 1\n", 3), ("grid\nrow 1\nover 1\n", 3), ("grid\nover 1\n", 2), ("grid\nrow 2/4\n", 2), ("grid\nrow 1\nrow -0\n", 3), ("grid\nrow 0 0\nrow 0 0\n", None), ("grid\nrow 1\nrow\n", 3), ("grid\ngrid\n", 2),
+            ("grid\nrow\n", 2), ("grid\nrow 1\nrow 1 2\n", 3), ("grid\nrow 1 2\nrow 1\n", 3), ("grid\n" + nine, None),
+            ("grid\n" + nine + "row 1 2\n", 11), ("grid\nrow" + " 0" * 9 + "\n", None),
+            ("grid\nrow" + " 0" * 10 + "\n", 2),
+            ("grid\nrow 1\n\nrow 1\n", 3), ("grid\nrow 1\nover 1\n", 3), ("grid\nover 1\n", 2), ("grid\nrow 2/4\n", 2),
+            ("grid\nrow 1\nrow -0\n", 3), ("grid\nrow 0 0\nrow 0 0\n", None), ("grid\nrow 1\nrow\n", 3),
+            ("grid\ngrid\n", 2),
             ("grid\nrow 1 \n", 2), ("grid\nrow  1\n", 2), ("grid\nrow 1\nRow 1\n", 3),
         ]:
             self.check(text, line)
@@ -131,12 +152,24 @@ class Readers(unittest.TestCase):
     def test_steps(self):
         one = "step 3 0\nover 1\nunder 1\n"
         for text, line in [
-            ("steps\nover 1\n", 2), ("steps\nstep 0\n", 2), ("steps\nstep 0 0 0\n", 2), ("steps\nstep 4 0\n", 2), ("steps\nstep 0 4\n", 2), ("steps\nstep 03 0\n", 2), ("steps\nstep -1 0\n", 2), ("steps\nstep 1/2 0\n", 2), ("steps\nstep 0 \n", 2),
-            ("steps\nstep  0 0\n", 2), ("steps\nstep 3 3\nunder 1\n", 3), ("steps\nstep 0 0\nover\n", 3), ("steps\nstep 0 0\nover 1\nover 1 2\n", 4), ("steps\nstep 0 0\nover 1\nunder\n", 4), ("steps\nstep 0 0\nover 1\nunder 1\nover 1\n", 5),
-            ("steps\nstep 0 0\nover 1\nunder 1 2\nunder 1\n", 5), ("steps\n" + one + "step 4 4\nover 1\nunder 1\n", None), ("steps\n" + one + "step 5 0\n", 5), ("steps\n" + one * 6, None), ("steps\n" + one * 7, 20),
-            ("steps\n" + one * 5 + "step 8 8\nover 1\nunder 1\n", None), ("steps\n" + one * 5 + "step 9 8\nover 1\nunder 1\n", 17), ("steps\nstep 0 0\n" + "over 1\n" * 9 + "under 1\n", None), ("steps\nstep 0 0\n" + "over 1\n" * 10 + "under 1\n", 12),
-            ("steps\nstep 0 0\nover 1\n" + "under 1\n" * 10, 13), ("steps\nstep 0 0\nover" + " 1" * 10 + "\n", 3), ("steps\nstep 0 0\nstep 0 0\n", 3), ("steps\nstep 0 0\nover 1\nstep 0 0\n", 4), ("steps\nsteps\n", 2), ("steps\nstep 0 0\nover 2/2\n", 3),
-            ("steps\nstep 0 0\nover 0\nunder 0\n", None), ("steps\nstep 0 0\nover 0\nrow 0\n", 4), ("steps\n\n", 2), ("steps\nstep 0 0\nover 0\nunder 0\n\n", 5),
+            ("steps\nover 1\n", 2), ("steps\nstep 0\n", 2), ("steps\nstep 0 0 0\n", 2), ("steps\nstep 4 0\n", 2),
+            ("steps\nstep 0 4\n", 2), ("steps\nstep 03 0\n", 2), ("steps\nstep -1 0\n", 2), ("steps\nstep 1/2 0\n", 2),
+            ("steps\nstep 0 \n", 2),
+            ("steps\nstep  0 0\n", 2), ("steps\nstep 3 3\nunder 1\n", 3), ("steps\nstep 0 0\nover\n", 3),
+            ("steps\nstep 0 0\nover 1\nover 1 2\n", 4), ("steps\nstep 0 0\nover 1\nunder\n", 4),
+            ("steps\nstep 0 0\nover 1\nunder 1\nover 1\n", 5),
+            ("steps\nstep 0 0\nover 1\nunder 1 2\nunder 1\n", 5),
+            ("steps\n" + one + "step 4 4\nover 1\nunder 1\n", None), ("steps\n" + one + "step 5 0\n", 5),
+            ("steps\n" + one * 6, None), ("steps\n" + one * 7, 20),
+            ("steps\n" + one * 5 + "step 8 8\nover 1\nunder 1\n", None),
+            ("steps\n" + one * 5 + "step 9 8\nover 1\nunder 1\n", 17),
+            ("steps\nstep 0 0\n" + "over 1\n" * 9 + "under 1\n", None),
+            ("steps\nstep 0 0\n" + "over 1\n" * 10 + "under 1\n", 12),
+            ("steps\nstep 0 0\nover 1\n" + "under 1\n" * 10, 13), ("steps\nstep 0 0\nover" + " 1" * 10 + "\n", 3),
+            ("steps\nstep 0 0\nstep 0 0\n", 3), ("steps\nstep 0 0\nover 1\nstep 0 0\n", 4), ("steps\nsteps\n", 2),
+            ("steps\nstep 0 0\nover 2/2\n", 3),
+            ("steps\nstep 0 0\nover 0\nunder 0\n", None), ("steps\nstep 0 0\nover 0\nrow 0\n", 4), ("steps\n\n", 2),
+            ("steps\nstep 0 0\nover 0\nunder 0\n\n", 5),
         ]:
             self.check(text, line)
 
@@ -147,8 +180,11 @@ class Readers(unittest.TestCase):
             lines = text.split("\n")[:-1]
             if len(lines) > 12:
                 continue
-            changed = [lines[:at] + lines[at + 1:] for at in range(len(lines))] + [lines[:at] + [lines[at]] + lines[at:] for at in range(len(lines))]
-            changed += [lines[:at] + [other] + lines[at:] for at in range(len(lines) + 1) for other in ("", "row 0", "x", "over 1", "step 0 0")]
+            changed = [lines[:at] + lines[at + 1:] for at in range(len(lines))] + [
+                lines[:at] + [lines[at]] + lines[at:] for at in range(len(lines))
+            ]
+            for other in ("", "row 0", "x", "over 1", "step 0 0"):
+                changed += [lines[:at] + [other] + lines[at:] for at in range(len(lines) + 1)]
             changed += [lines[:at] + [lines[at + 1], lines[at]] + lines[at + 2:] for at in range(len(lines) - 1)]
             for other in changed:
                 made = "".join(line + "\n" for line in other)
@@ -171,13 +207,20 @@ class Readers(unittest.TestCase):
             lines = [line.split(" ") for line in written(sort, draw_value(draw, sort)).split("\n")[:-1]]
             for _ in range(6):
                 row = draw.randrange(len(lines))
-                at, word = draw.randrange(len(lines[row]) + 1), draw.choice(["0", "1", "-1", "1/2", "2/4", "00", "row", "over", "under", "beyond", ""])
-                for new in (lines[row][:at] + [word] + lines[row][at:], lines[row][:at] + lines[row][at + 1:], lines[row][:at] + [word] + lines[row][at + 1:]):
+                at, word = draw.randrange(len(lines[row]) + 1), draw.choice(
+                    ["0", "1", "-1", "1/2", "2/4", "00", "row", "over", "under", "beyond", ""]
+                )
+                for new in (
+                    lines[row][:at] + [word] + lines[row][at:], lines[row][:at] + lines[row][at + 1:],
+                    lines[row][:at] + [word] + lines[row][at + 1:],
+                ):
                     made = "".join(" ".join(line) + "\n" for line in lines[:row] + [new] + lines[row + 1:])
                     self.check(made, wrong_line(made))
 
     def test_no_strings(self):
-        for value in (None, True, 0, 1, b"place 1\n", b"", [], ["place 1\n"], ("place 1\n",), {}, LETTER, STRANGE, object(), str):
+        for value in (
+            None, True, 0, 1, b"place 1\n", b"", [], ["place 1\n"], ("place 1\n",), {}, LETTER, STRANGE, object(), str,
+        ):
             check_raises(self, InvalidText, {"line": 0}, read, value)
             check_raises(self, InvalidText, {"line": 0}, read, text=value)
 

@@ -48,7 +48,7 @@ def chains(fraction):
         ahead = [other for other in range(place) if is_next(inner, other, place)]
         longer = [chain + [place] for other in ahead for chain in ending[other]]
         ending.append(longer)
-    return [[ones[place] for place in chain] for chain in sorted(ending[-1])]
+    return [[ones[at] for at in chain] for chain in sorted(ending[-1])]
 
 
 def is_next(inner, first, last):

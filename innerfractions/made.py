@@ -95,7 +95,8 @@ def steps_towards(fractions, fraction):
     Fractions of lesser degrees are taken first, since their grids are smaller. So what is joined
     to the one held has at least its degree, and neither is made of the other one.
     """
-    places = [at for _, at in sorted([(one.degree, at) for at, one in enumerate(fractions)])]
+    ranks = sorted([(one.degree, number) for number, one in enumerate(fractions)])
+    places = [number for _, number in ranks]
     steps, at = [], places[0]
     held = fractions[at]
     for place in places[1:]:

@@ -222,6 +222,43 @@ class Statements(unittest.TestCase):
                 self.assertIsInstance(node.exc, ast.Call, name)
                 self.assertIsInstance(node.exc.func, ast.Name, name)
 
+    def test_own_errors_are_caught(self):
+        own = {node.name for _, tree in trees() for node in nodes(tree, ast.ClassDef)}
+        for name, tree in trees():
+            for node in nodes(tree, ast.ExceptHandler):
+                caught = node.type.elts if isinstance(node.type, ast.Tuple) else [node.type]
+                self.assertTrue({part.id for part in caught} <= own, name)
+
+    def test_reversed_of_lists_alone(self):
+        # Objects with __getitem__ could be taken for lists.
+        for name, tree in trees():
+            for node in nodes(tree, ast.Call):
+                if isinstance(node.func, ast.Name) and node.func.id == "reversed":
+                    self.assertIn(node.args[0].func.id, ("list", "tuple", "sorted", "range"), name)
+
+    def test_blocks_are_left_by_assignments_alone(self):
+        for name, tree in trees():
+            for held in nodes(tree, ast.ClassDef):
+                methods = {node.name: node for node in held.body if isinstance(node, ast.FunctionDef)}
+                self.assertEqual("__enter__" in methods, "__exit__" in methods, name)
+                self.assertTrue("__getitem__" not in methods or "__iter__" in methods, name)
+                for row in methods["__exit__"].body if "__exit__" in methods else []:
+                    self.assertIsInstance(row, ast.Assign)
+                    self.assertIsInstance(row.value, ast.Attribute)
+
+    def test_names_in_inner_comprehensions(self):
+        kinds = (ast.ListComp, ast.DictComp, ast.SetComp)
+        for name, tree in trees():
+            for function in nodes(tree, ast.FunctionDef):
+                inner = {id(part) for node in nodes(function, *kinds) for part in nodes(node, *kinds) if part is not node}
+                variables = {part.id for node in nodes(function, *kinds) for held in node.generators for part in nodes(held.target, ast.Name)}
+                stored = {part.id for part in nodes(function, ast.Name) if isinstance(part.ctx, ast.Store)} - variables
+                stored |= {part.id for loop in nodes(function, ast.For) for part in nodes(loop.target, ast.Name)}
+                stored |= {part.id for row in nodes(function, ast.Assign) for held in row.targets for part in nodes(held, ast.Name)}
+                for node in [node for node in nodes(function, *kinds) if id(node) in inner]:
+                    own = {part.id for held in node.generators for part in nodes(held.target, ast.Name)}
+                    self.assertEqual(own & stored - {"_"}, set(), (name, function.name))
+
 
 class Operators(unittest.TestCase):
     """What operators, properties and texts run changes nothing that it did not create itself."""
